@@ -1,0 +1,1 @@
+"""Boxes in which nothing goes round, and what no such box can tell apart."""

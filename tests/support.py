@@ -1,0 +1,116 @@
+"""What several tests need: values of all kinds, many machines, and slow checks."""
+
+import random
+
+from neverturns.base.machines import Machine
+from neverturns.errors import InvalidNumber, InvalidWord
+
+
+def nested(depth):
+    """A tuple, list or dict in a tuple, list or dict, and so on."""
+    value = "a"
+    for at in range(depth):
+        value = ((value,), [value], {"a": value})[at % 3]
+    return value
+
+
+# The kinds of [0.4]; none of them is a string.
+NO_STRINGS = (
+    None, True, False, 0, 1, -1, 7, 61, 10 ** 11, 10 ** 40 - 1, 1 - 10 ** 40,
+    (), ("a",), ("a", "b"), (0,), (0, 1), ((0,),), ((1, 0), (0, 1)), (True,), (None, "a"),
+    [], ["a"], [0], [[0]], {}, {"a": "b"}, {0: 0}, {(0, 1): [None]},
+    nested(3), nested(10),
+    Machine("ab", ((1, 0), (0, 1)), (0,)), (Machine("a", ((0,),)),), [Machine("b", ((0,),), (0,))],
+    InvalidWord(), InvalidNumber([1]),
+)
+NO_WORDS = NO_STRINGS + ("A", "aB", "a b", " ", "a\n", "\n", "a1", "0", "a-b", "-", "z{", "`a", "~" * 400)
+NO_LETTERS = NO_WORDS + ("", "aa", "ba", "zy", "abc", "aab", "a" * 400)
+NO_MACHINES = NO_WORDS + ("", "ab")
+NO_NUMBERS = tuple([value for value in NO_WORDS if isinstance(value, bool) or not isinstance(value, int)]) + ("1", "")
+
+
+def slow_after(machine, word):
+    """The state to which a word leads, straight from [0.8]."""
+    state = 0
+    for letter in word:
+        state = machine.table[state][machine.letters.index(letter)]
+    return state
+
+
+def slow_has(machine, word):
+    return slow_after(machine, word) in machine.ends
+
+
+def slow_words(letters, most):
+    """All words of at most so many letters, sorted only at the end."""
+    found = {""}
+    for _ in range(most):
+        found = found | {word + letter for word in found for letter in letters}
+    return sorted(found, key=lambda word: (len(word), word))
+
+
+def slow_firsts(machine):
+    """A dict from the states to the first words that lead to them, by improving."""
+    firsts = {0: ""}
+    changed = True
+    while changed:
+        changed = False
+        for state, word in list(firsts.items()):
+            for letter, goal in zip(machine.letters, machine.table[state]):
+                new = word + letter
+                if goal not in firsts or (len(new), new) < (len(firsts[goal]), firsts[goal]):
+                    firsts[goal] = new
+                    changed = True
+    return firsts
+
+
+def slow_unlike(machine):
+    """The pairs of states that some word tells apart, by growing the set."""
+    size = len(machine.table)
+    unlike = {
+        (one, other) for one in range(size) for other in range(size)
+        if (one in machine.ends) != (other in machine.ends)
+    }
+    changed = True
+    while changed:
+        changed = False
+        for one in range(size):
+            for other in range(size):
+                goals = zip(machine.table[one], machine.table[other])
+                if (one, other) not in unlike and any(pair in unlike for pair in goals):
+                    unlike.add((one, other))
+                    changed = True
+    return unlike
+
+
+def is_slowly_least(machine):
+    """Whether all states are reached, unlike, and numbered by their first words."""
+    firsts = slow_firsts(machine)
+    order = sorted(firsts, key=lambda state: (len(firsts[state]), firsts[state]))
+    size = len(machine.table)
+    return order == list(range(size)) and len(slow_unlike(machine)) == size * (size - 1)
+
+
+def all_machines(letters, size):
+    """All machines with so many letters and states."""
+    lines = [()]
+    for _ in letters:
+        lines = [line + (goal,) for line in lines for goal in range(size)]
+    tables = [()]
+    for _ in range(size):
+        tables = [table + (line,) for table in tables for line in lines]
+    ends = [()]
+    for state in range(size):
+        ends = ends + [some + (state,) for some in ends]
+    return [Machine(letters, table, some) for table in tables for some in ends]
+
+
+def some_machines(letters, size, many):
+    """So many machines with so many states, the same ones in each run."""
+    dice = random.Random(10 * size + len(letters))
+    found = []
+    for _ in range(many):
+        table = tuple(tuple(dice.randrange(size) for _ in letters) for _ in range(size))
+        ends = tuple(state for state in range(size) if dice.randrange(2))
+        found.append(Machine(letters, table, ends))
+    return found

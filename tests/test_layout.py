@@ -1,0 +1,93 @@
+"""The files of the package: where the names of the interface stand, and the sizes and words that are let."""
+
+import ast
+import builtins
+import importlib
+import pathlib
+import unittest
+
+PACKAGE = pathlib.Path(__file__).resolve().parent.parent / "neverturns"
+FILES = sorted(PACKAGE.rglob("*.py"))
+INTERFACE = {
+    "errors": (
+        "TurnError", "InvalidWord", "InvalidMachine", "InvalidBox", "InvalidOperation", "ParseError", "UnknownName",
+        "GoesRound", "InvalidNumber", "TooMany", "NothingToUndo", "Refused",
+    ),
+    "base.words": ("is_letters", "is_word", "all_words", "power", "root", "exponent", "are_powers"),
+    "base.machines": ("Machine",),
+}
+METHODS = {
+    "base.machines.Machine": (
+        "__init__", "letters", "table", "ends", "is_empty", "is_full", "after", "words", "first_word", "least",
+        "__invert__", "__or__", "__and__", "__sub__", "__contains__", "__len__", "__eq__", "__str__",
+    ),
+}
+BUILTINS = (
+    "len range enumerate zip min max sum abs sorted reversed int str bool list tuple dict set isinstance ord repr "
+    "any all divmod super property classmethod staticmethod Exception ValueError TypeError KeyError IndexError "
+    "LookupError ZeroDivisionError ArithmeticError OverflowError RuntimeError NotImplemented"
+).split()
+
+
+def tree_of(path):
+    return ast.parse(path.read_text(encoding="utf-8"))
+
+
+def nodes(kinds):
+    for path in FILES:
+        for node in ast.walk(tree_of(path)):
+            if isinstance(node, kinds):
+                yield path.name, node
+
+
+class LayoutTest(unittest.TestCase):
+
+    def test_names_are_defined_where_the_interface_lists_them(self):
+        for module, names in INTERFACE.items():
+            tree = tree_of(PACKAGE / (module.replace(".", "/") + ".py"))
+            defined = [node.name for node in tree.body if isinstance(node, (ast.FunctionDef, ast.ClassDef))]
+            for name in names:
+                self.assertIn(name, defined)
+
+    def test_methods_are_defined_in_their_class(self):
+        for place, names in METHODS.items():
+            module, _, name = place.rpartition(".")
+            found = vars(getattr(importlib.import_module("neverturns." + module), name))
+            for method in names:
+                self.assertIn(method, found)
+
+    def test_every_folder_is_a_package(self):
+        for path in FILES:
+            self.assertTrue((path.parent / "__init__.py").is_file())
+
+    def test_sizes_and_signs(self):
+        for path in FILES:
+            text = path.read_bytes().decode("ascii")
+            lines = text.split("\n")
+            self.assertLess(len(lines), 400)
+            self.assertLessEqual(max(map(len, lines)), 120)
+            self.assertTrue(all(sign == "\n" or " " <= sign <= "~" for sign in text), path)
+
+    def test_functions_are_short(self):
+        for name, node in nodes(ast.FunctionDef):
+            self.assertLessEqual(node.end_lineno - node.lineno, 39, (name, node.name))
+
+    def test_imports(self):
+        for name, node in nodes((ast.Import, ast.ImportFrom)):
+            self.assertIsInstance(node, ast.ImportFrom, name)
+            self.assertTrue(node.module.startswith("neverturns."), name)
+            self.assertEqual([alias.asname for alias in node.names], [None] * len(node.names), name)
+
+    def test_only_some_builtins(self):
+        for name, node in nodes(ast.Name):
+            if hasattr(builtins, node.id):
+                self.assertIn(node.id, BUILTINS, name)
+                self.assertIsInstance(node.ctx, ast.Load, name)
+
+    def test_no_generator_expression_stands_beside_an_own_equality(self):
+        for name, node in nodes(ast.GeneratorExp):
+            self.fail((name, node.lineno))
+
+
+if __name__ == "__main__":
+    unittest.main()
