@@ -1,9 +1,12 @@
 """What several tests need: values of all kinds, many machines, and slow checks."""
 
+import itertools
 import random
 
+from neverturns.base.joined import chained, of_words
 from neverturns.base.machines import Machine
 from neverturns.errors import InvalidNumber, InvalidWord
+from neverturns.still.boxes import Box
 
 
 def nested(depth):
@@ -25,7 +28,8 @@ NO_STRINGS = (
 )
 NO_WORDS = NO_STRINGS + ("A", "aB", "a b", " ", "a\n", "\n", "a1", "0", "a-b", "-", "z{", "`a", "~" * 400)
 NO_LETTERS = NO_WORDS + ("", "aa", "ba", "zy", "abc", "aab", "a" * 400)
-NO_MACHINES = NO_WORDS + ("", "ab")
+NO_MACHINES = NO_WORDS + ("", "ab", Box("ab", ((1, 0), (1, 1))), (Box("a", ((0,),)),))
+NO_BOXES = NO_WORDS + ("", "ab", (Box("a", ((0,),)),), [Box("b", ((0,),))])
 NO_NUMBERS = tuple([value for value in NO_WORDS if isinstance(value, bool) or not isinstance(value, int)]) + ("1", "")
 
 
@@ -114,3 +118,84 @@ def some_machines(letters, size, many):
         ends = tuple(state for state in range(size) if dice.randrange(2))
         found.append(Machine(letters, table, ends))
     return found
+
+
+def all_tables(letters, size):
+    """All tables with so many letters and states."""
+    lines = list(itertools.product(range(size), repeat=len(letters)))
+    return list(itertools.product(lines, repeat=size))
+
+
+def slow_led(table, letters, start, word):
+    """The state to which a word leads from another one."""
+    for letter in word:
+        start = table[start][letters.index(letter)]
+    return start
+
+
+def slow_action(table, letters, word):
+    """The tuple of the states to which a word leads."""
+    return tuple(slow_led(table, letters, start, word) for start in range(len(table)))
+
+
+def slow_actions(table, letters):
+    """A dict from the actions to their first words: all words in order, until a length brings nothing new."""
+    found = {}
+    row = [""]
+    while row:
+        new = []
+        for word in row:
+            action = slow_action(table, letters, word)
+            if action not in found:
+                found[action] = word
+                new.append(word)
+        # Behind a word that is not the first one with its action, no word is a first one.
+        row = [word + letter for word in new for letter in letters]
+    return found
+
+
+def slow_is_turn(table, letters, word, state):
+    """Whether a word and a state are a turn, straight from [0.9]."""
+    if slow_led(table, letters, state, word) == state:
+        return False
+    return any(slow_led(table, letters, state, word * times) == state for times in range(1, len(table) + 1))
+
+
+def slow_first_turn(table, letters):
+    """The first turn: by all first words of actions, and all states."""
+    for word in sorted(slow_actions(table, letters).values(), key=lambda word: (len(word), word)):
+        for state in range(len(table)):
+            if slow_is_turn(table, letters, word, state):
+                return word, state
+    return None
+
+
+def all_boxes(letters, size):
+    """All boxes with so many letters and places."""
+    return [Box(letters, table) for table in all_tables(letters, size) if slow_first_turn(table, letters) is None]
+
+
+def some_boxes(letters, size, many):
+    """So many boxes with so many places, the same ones in each run."""
+    dice = random.Random(100 * size + len(letters))
+    found = []
+    while len(found) < many:
+        table = tuple(tuple(dice.randrange(size) for _ in letters) for _ in range(size))
+        if slow_first_turn(table, letters) is None:
+            found.append(Box(letters, table))
+    return found
+
+
+def chain(size):
+    """A machine with so many states and actions, by a long word of one letter alone."""
+    left = size - 2
+    made = of_words("a", ("",))
+    while left > 0:
+        made = chained(made, of_words("a", ("a" * min(left, 6),)))
+        left -= 6
+    return made
+
+
+def spoken(machine, most):
+    """The set of the words of a machine of at most so many letters."""
+    return {word for word in slow_words(machine.letters, most) if slow_has(machine, word)}

@@ -2,8 +2,15 @@
 
 import unittest
 
+from neverturns.base.joined import are_same, behind, chained, common_word, first_difference, mirrored, of_words
+from neverturns.base.joined import renamed, repeated
 from neverturns.base.machines import Machine
 from neverturns.base.words import all_words, are_powers, exponent, is_letters, is_word, power, root
+from neverturns.errors import GoesRound
+from neverturns.still.boxes import Box
+from neverturns.still.sights import alike_pair, apart_paper, is_alike_pair, is_apart_paper, places, seen_by
+from neverturns.still.sights import tells_apart, word_to
+from neverturns.still.turns import actions, first_turn, is_calm, is_still, is_turn, settles, word_of
 
 EVEN = Machine("ab", ((1, 0), (0, 1)), (0,))
 ODD = Machine("ab", ((1, 0), (0, 1)), (1,))
@@ -11,6 +18,8 @@ STARTS = Machine("ab", ((1, 2), (1, 1), (2, 2)), (1,))
 OTHERS = Machine("ab", ((1, 2), (1, 1), (2, 2)), (0, 2))
 CLOSES = Machine("ab", ((1, 0), (1, 0)), (1,))
 LATER = Machine("ab", ((0, 1), (0, 1)), (1,))
+LATCH = Box("ab", ((1, 0), (1, 1)))
+PAIRS = repeated(of_words("ab", ("ab",)))
 
 
 class ExamplesTest(unittest.TestCase):
@@ -23,6 +32,7 @@ class ExamplesTest(unittest.TestCase):
             self.assertEqual(word in OTHERS, not word.startswith("a"))
             self.assertEqual(word in CLOSES, word.endswith("a"))
             self.assertEqual(word in LATER, word.endswith("b"))
+            self.assertEqual(LATCH(word) == 1, "a" in word)
 
     def test_words(self):
         self.assertEqual(
@@ -51,6 +61,82 @@ class ExamplesTest(unittest.TestCase):
                 (STARTS & CLOSES).first_word(), list((STARTS - CLOSES).words(3)),
             ]),
             "[True, ((0, 0),), True, 'a', ['ab', 'aab', 'abb']]",
+        )
+
+    def test_joined(self):
+        self.assertEqual(
+            repr([
+                list(PAIRS.words(5)), list(mirrored(PAIRS).words(3)),
+                list(chained(of_words("ab", ("a", "b")), PAIRS).words(3)), behind(PAIRS, "a").first_word(),
+            ]),
+            "[['', 'ab', 'abab'], ['', 'ba'], ['a', 'b', 'aab', 'bab'], 'b']",
+        )
+        self.assertEqual(
+            repr([
+                common_word(EVEN, ODD), common_word(EVEN, STARTS), first_difference(EVEN, ODD),
+                are_same(mirrored(STARTS), CLOSES), list(renamed(PAIRS, {"a": "z", "b": "a"}).words(2)),
+            ]),
+            "[None, 'aa', '', True, ['', 'za']]",
+        )
+
+    def test_turns(self):
+        self.assertEqual(
+            repr([
+                actions(EVEN), word_of(EVEN, (1, 0)), settles(EVEN, "a"), settles(EVEN, "bb"), first_turn(EVEN),
+                is_calm(EVEN | ODD),
+            ]),
+            "[((0, 1), (1, 0)), 'a', (0, 2), (0, 1), ('a', 0), True]",
+        )
+        self.assertEqual(
+            repr([
+                is_turn(EVEN, ("ab", 1)), is_turn(EVEN, ("aa", 0)), is_still(STARTS), settles(PAIRS, "ab"),
+                settles(PAIRS, "b"),
+            ]),
+            "[True, False, True, (1, 1), (2, 1)]",
+        )
+
+    def test_boxes(self):
+        self.assertEqual(
+            repr([
+                LATCH("ba"), LATCH.place("b", 1, times=5), LATCH.action("a"), LATCH.lag("a"), LATCH.first_word(1),
+                LATCH.machine((1,)).first_word(), str(LATCH),
+            ]),
+            "[1, 1, (1, 1), 1, 'a', 'a', 'box of 2 places for ab']",
+        )
+        self.assertEqual(
+            repr([
+                Box.window("ab", 1).table, Box.caps("ab", 2)("abaa"), len(Box.window("ab", 2)),
+                len((LATCH & Box.window("ab", 1)).lean()), Box.caps("a", 3).lag("a"),
+            ]),
+            "[((1, 2), (1, 2), (1, 2)), 5, 7, 4, 3]",
+        )
+        with self.assertRaises(GoesRound) as caught:
+            Box("ab", ((1, 0), (0, 1)))
+        self.assertEqual(caught.exception.turn, ("a", 0))
+
+    def test_sights(self):
+        self.assertEqual(
+            repr([
+                places(STARTS, LATCH), places(OTHERS, LATCH), tells_apart(STARTS, OTHERS, LATCH),
+                word_to(OTHERS, LATCH, 1), alike_pair(STARTS, OTHERS, LATCH)[0] in STARTS,
+            ]),
+            "[(1,), (0, 1), False, 'ba', True]",
+        )
+        wide = Box("ab", ((1, 2), (1, 1), (2, 2)))
+        self.assertEqual(
+            repr([
+                tells_apart(STARTS, OTHERS, wide), apart_paper(EVEN, ODD, wide),
+                is_alike_pair(EVEN, ODD, LATCH, ("aa", "a")), seen_by(ODD, LATCH) == LATCH.machine((1,)),
+            ]),
+            "[True, None, True, True]",
+        )
+        table = ((0, 0), (1, 1), (2, 2))
+        self.assertEqual(
+            repr([
+                is_apart_paper(STARTS, OTHERS, wide, (table, table)),
+                is_apart_paper(STARTS, OTHERS, wide, (table[:2], table)),
+            ]),
+            "[True, False]",
         )
 
 

@@ -15,11 +15,24 @@ INTERFACE = {
     ),
     "base.words": ("is_letters", "is_word", "all_words", "power", "root", "exponent", "are_powers"),
     "base.machines": ("Machine",),
+    "base.joined": (
+        "of_words", "chained", "repeated", "mirrored", "behind", "renamed", "common_word", "first_difference",
+        "are_same",
+    ),
+    "still.turns": ("actions", "word_of", "settles", "first_turn", "is_turn", "is_still", "is_calm"),
+    "still.boxes": ("Box",),
+    "still.sights": (
+        "places", "word_to", "tells_apart", "alike_pair", "is_alike_pair", "seen_by", "apart_paper", "is_apart_paper",
+    ),
 }
 METHODS = {
     "base.machines.Machine": (
         "__init__", "letters", "table", "ends", "is_empty", "is_full", "after", "words", "first_word", "least",
         "__invert__", "__or__", "__and__", "__sub__", "__contains__", "__len__", "__eq__", "__str__",
+    ),
+    "still.boxes.Box": (
+        "__init__", "window", "caps", "letters", "table", "__call__", "place", "action", "lag", "first_word", "lean",
+        "machine", "__and__", "__len__", "__eq__", "__str__",
     ),
 }
 BUILTINS = (

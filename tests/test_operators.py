@@ -4,7 +4,7 @@ import unittest
 
 from neverturns.base.machines import Machine
 from neverturns.errors import InvalidMachine, InvalidOperation
-from tests.support import NO_MACHINES, all_machines, is_slowly_least, slow_has, slow_words, some_machines
+from tests.support import NO_MACHINES, all_machines, is_slowly_least, slow_words, some_machines, spoken
 
 LONGEST = 7
 SINGLE = all_machines("a", 1) + all_machines("a", 2) + some_machines("a", 3, 12) + some_machines("a", 4, 12)
@@ -12,22 +12,17 @@ DOUBLE = all_machines("ab", 1) + some_machines("ab", 2, 12) + some_machines("ab"
 ALONE = SINGLE + DOUBLE + all_machines("ab", 2) + some_machines("by", 3, 60) + some_machines("by", 4, 60)
 
 
-def spoken(machine):
-    """The words of a machine up to some length, as a set."""
-    return {word for word in slow_words(machine.letters, LONGEST) if slow_has(machine, word)}
-
-
 class LeastTest(unittest.TestCase):
 
     def check(self, made, letters, told):
         self.assertIs(type(made), Machine)
         self.assertEqual(made.letters, letters)
-        self.assertEqual(spoken(made), told)
+        self.assertEqual(spoken(made, LONGEST), told)
         self.assertTrue(is_slowly_least(made), made.table)
 
     def test_least(self):
         for machine in ALONE:
-            self.check(machine.least(), machine.letters, spoken(machine))
+            self.check(machine.least(), machine.letters, spoken(machine, LONGEST))
             self.assertEqual(machine.least().least(), machine.least())
 
     def test_states_are_numbered_by_first_words(self):
@@ -45,7 +40,7 @@ class LeastTest(unittest.TestCase):
 
     def test_invert(self):
         for machine in ALONE:
-            self.check(~machine, machine.letters, set(slow_words(machine.letters, LONGEST)) - spoken(machine))
+            self.check(~machine, machine.letters, set(slow_words(machine.letters, LONGEST)) - spoken(machine, LONGEST))
             self.assertEqual(~~machine, machine.least())
 
     def test_two_machines(self):
@@ -69,7 +64,7 @@ class LeastTest(unittest.TestCase):
         four = Machine("ab", ((0, 1), (1, 2), (2, 3), (3, 0)), (0,))
         both = three & four
         self.assertEqual(len(both), 12)
-        self.check(both, "ab", spoken(three) & spoken(four))
+        self.check(both, "ab", spoken(three, LONGEST) & spoken(four, LONGEST))
         self.assertEqual(~both, ~three | ~four)
         self.assertEqual(both - three, Machine("ab", ((0, 0),)))
         self.assertEqual(both | both, both)
@@ -126,7 +121,7 @@ KNOWN = {}
 def spoken_of(machine):
     """As spoken, but worked out once for each machine."""
     if id(machine) not in KNOWN:
-        KNOWN[id(machine)] = spoken(machine)
+        KNOWN[id(machine)] = spoken(machine, LONGEST)
     return KNOWN[id(machine)]
 
 

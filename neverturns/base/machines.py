@@ -1,9 +1,9 @@
 """Machines, which read words letter by letter."""
 
 from neverturns.errors import InvalidMachine, InvalidNumber, InvalidOperation
-from neverturns.base.tables import beside, end_marks, first_word_to, is_choice, is_table
+from neverturns.base.tables import beside, end_marks, first_word_to, is_choice, is_table, kept_pairs
 from neverturns.base.tables import least_table, led, led_often, marked
-from neverturns.base.words import all_words, check_word, has_only, is_between, is_letters, is_word
+from neverturns.base.words import all_words, check_only, check_word, has_only, is_between, is_letters, is_word
 
 MAX_STATES = 4
 MAX_TIMES = 10 ** 11
@@ -58,8 +58,7 @@ class Machine:
         check_word(word)
         if not is_between(times, 0, MAX_TIMES):
             raise InvalidNumber(times)
-        if not has_only(word, self._letters):
-            raise InvalidOperation("the word has a letter that is not in the set")
+        check_only(word, self._letters)
         return led_often(self._table, self._letters, 0, word, times)
 
     def words(self, most):
@@ -123,15 +122,26 @@ def least_machine(letters, table, ends):
 
 def combined(one, other, kept):
     """Return the least machine of the words that are kept, by which of both has them."""
-    if not isinstance(other, Machine):
-        raise InvalidMachine("the operand on the right is no machine")
-    if one._letters != other._letters:
-        raise InvalidOperation("the sets of letters are not equal")
+    check_machine(other)
+    check_same_letters(one, other)
     pairs, table = beside(one._table, other._table)
-    firsts = marked(one._ends)
-    seconds = marked(other._ends)
-    ends = [
-        at for at, (first, second) in enumerate(pairs)
-        if (first in firsts, second in seconds) in kept
-    ]
-    return least_machine(one._letters, table, tuple(ends))
+    return least_machine(one._letters, table, kept_pairs(pairs, one._ends, other._ends, kept))
+
+
+def check_machine(value):
+    """Raise InvalidMachine if the value is no machine."""
+    if not isinstance(value, Machine):
+        raise InvalidMachine("this is no machine")
+
+
+def check_same_letters(one, other):
+    """Raise InvalidOperation if the letters of two machines or boxes are not equal."""
+    if one.letters != other.letters:
+        raise InvalidOperation("the sets of letters are not equal")
+
+
+def check_two(one, other):
+    """Raise the error for two values that are no machines with the same letters."""
+    check_machine(one)
+    check_machine(other)
+    check_same_letters(one, other)

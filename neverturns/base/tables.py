@@ -72,6 +72,13 @@ def reached(table):
     return found
 
 
+def lean_table(table):
+    """Return the table of the reached states alone, numbered by their first words."""
+    states = reached(table)
+    numbers = {state: at for at, state in enumerate(states)}
+    return tuple([tuple([numbers[goal] for goal in table[state]]) for state in states])
+
+
 def end_marks(table, ends):
     """Return for each reached state, in order, whether it is an end."""
     marks = marked(ends)
@@ -160,3 +167,13 @@ def beside(one, other):
             line.append(numbers[goal])
         lines.append(tuple(line))
     return pairs, tuple(lines)
+
+
+def kept_pairs(pairs, ends, other_ends, kept):
+    """Return the indices of the pairs that are kept, by which of both is an end."""
+    firsts = marked(ends)
+    seconds = marked(other_ends)
+    return tuple([
+        at for at, (first, second) in enumerate(pairs)
+        if (first in firsts, second in seconds) in kept
+    ])

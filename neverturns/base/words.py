@@ -40,6 +40,12 @@ def check_word(value):
         raise InvalidWord("this is no word")
 
 
+def check_only(word, letters):
+    """Raise InvalidOperation if the word has a letter that is none of the letters."""
+    if not has_only(word, letters):
+        raise InvalidOperation("the word has a letter that is not in the set")
+
+
 def all_words(letters, most):
     """Yield all words of at most so many letters of a set, the first one first."""
     if not is_letters(letters):

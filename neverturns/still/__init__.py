@@ -1,0 +1,1 @@
+"""Turns, boxes without them, and what a box sees of machines."""
