@@ -32,6 +32,16 @@ NO_MACHINES = NO_WORDS + ("", "ab", Box("ab", ((1, 0), (1, 1))), (Box("a", ((0,)
 NO_BOXES = NO_WORDS + ("", "ab", (Box("a", ((0,),)),), [Box("b", ((0,),))])
 NO_NUMBERS = tuple([value for value in NO_WORDS if isinstance(value, bool) or not isinstance(value, int)]) + ("1", "")
 
+EVEN = Machine("ab", ((1, 0), (0, 1)), (0,))
+# Some of the kinds of [0.4] that are no map of two machines with two states.
+NO_MAPS = tuple(value for value in NO_MACHINES if value != ((1, 0), (0, 1))) + (
+    EVEN, ((0, 1),), ((0, 1), (0, 1), (0, 1)), [(0, 1), (0, 1)], ((0, 1), [0, 1]), ([0, 1], (0, 1)), ((0, 1), (0,)),
+    ((0,), (0, 1)), ((0, 2), (0, 1)), ((0, -1), (0, 1)), ((0, 1), (0, 3)), ((0, 1), (0, -1)), ((False, 1), (0, 1)),
+    ((0, True), (0, 1)), ((0, 1), (0, True)), ((0, 1), (False, False)), ((0, None), (0, 1)), ((0, "1"), (0, 1)),
+    ("01", "01"), ((0, 1), "01"), ((0, (1,)), (0, 1)), ({0: 0, 1: 1}, (0, 1)), ((0, 10 ** 39), (0, 1)), (EVEN, EVEN),
+    (((0, 1), (0, 1)),), ((0, 1, 0), (0, 1)), ((0, 1), (0, 1, 0, 1)), (0, 1), (0, 1, 0, 1), ((), ()),
+)
+
 
 def slow_after(machine, word):
     """The state to which a word leads, straight from [0.8]."""
@@ -199,3 +209,96 @@ def chain(size):
 def spoken(machine, most):
     """The set of the words of a machine of at most so many letters."""
     return {word for word in slow_words(machine.letters, most) if slow_has(machine, word)}
+
+
+def slow_image(one, other, word):
+    """The image of a word, straight from [0.11]."""
+    return slow_action(one.table, one.letters, word), slow_action(other.table, other.letters, word)
+
+
+def slow_images(one, other):
+    """A dict from the images to their first words: all words in order, until a length brings nothing new."""
+    found = {}
+    row = [""]
+    while row:
+        new = []
+        for word in row:
+            if slow_image(one, other, word) not in found:
+                found[slow_image(one, other, word)] = word
+                new.append(word)
+        row = [word + letter for word in new for letter in one.letters]
+    return found
+
+
+def all_maps(one, other):
+    """All maps of two machines, ascending."""
+    firsts = itertools.product(range(len(one)), repeat=len(one))
+    seconds = list(itertools.product(range(len(other)), repeat=len(other)))
+    return list(itertools.product(firsts, seconds))
+
+
+def slow_product(left, right):
+    """The product of two maps, straight from [0.11]."""
+    return tuple(tuple(right[side][state] for state in left[side]) for side in (0, 1))
+
+
+def slow_cloud_product(left, right):
+    return {slow_product(one, other) for one in left for other in right}
+
+
+def slow_power(cloud, times):
+    found = set(cloud)
+    for _ in range(times - 1):
+        found = slow_cloud_product(found, cloud)
+    return found
+
+
+def slow_often_number(cloud):
+    """The number k of [0.12], by trying all."""
+    powers = [None, set(cloud)]
+    number = 1
+    while True:
+        while len(powers) <= 2 * number:
+            powers.append(slow_cloud_product(powers[-1], cloud))
+        if powers[number] == powers[2 * number]:
+            return number
+        number += 1
+
+
+def slow_often(cloud):
+    number = slow_often_number(cloud)
+    return slow_power(cloud, number) | slow_power(cloud, number + 1)
+
+
+def slow_is_bad(one, other, cloud):
+    """Whether a cloud is bad, straight from [0.13]."""
+    return (
+        any(leads[0][0] in one.ends for leads in cloud) and any(leads[1][0] in other.ends for leads in cloud)
+    )
+
+
+def slow_recipe_clouds(one, other, recipe):
+    """The clouds of a recipe as sets, straight from [8.2]."""
+    clouds = []
+    for step in recipe:
+        if step[0] == "word":
+            clouds.append({slow_image(one, other, step[1])})
+        elif step[0] == "both":
+            clouds.append(slow_cloud_product(clouds[step[1]], clouds[step[2]]))
+        else:
+            clouds.append(slow_often(clouds[step[1]]))
+    return clouds
+
+
+def pairs_with_few_images(letters, sizes, many, most):
+    """So many pairs of machines of these sizes with at most so many images, the same ones in each run."""
+    dice = random.Random(repr((letters, sizes, most)))
+    found = []
+    while len(found) < many:
+        pair = []
+        for size in sizes:
+            table = tuple(tuple(dice.randrange(size) for _ in letters) for _ in range(size))
+            pair.append(Machine(letters, table, tuple(state for state in range(size) if dice.randrange(2))))
+        if len(slow_images(*pair)) <= most:
+            found.append(tuple(pair))
+    return found

@@ -6,7 +6,12 @@ from neverturns.base.joined import are_same, behind, chained, common_word, first
 from neverturns.base.joined import renamed, repeated
 from neverturns.base.machines import Machine
 from neverturns.base.words import all_words, are_powers, exponent, is_letters, is_word, power, root
-from neverturns.errors import GoesRound
+from neverturns.cloud.finding import are_blurred, are_clouded, blur, clear_paper, greatest_clouds, is_cloud, recipe_for
+from neverturns.cloud.images import first_words, hits, image, images, is_image, is_map, product, rounds
+from neverturns.cloud.pairs import against_all, is_pair, pair_against, word_for, words_against
+from neverturns.cloud.papers import cloud_power, is_bad, is_blur, is_clear_paper, is_recipe, often, often_number
+from neverturns.cloud.papers import recipe_clouds
+from neverturns.errors import GoesRound, Refused
 from neverturns.still.boxes import Box
 from neverturns.still.sights import alike_pair, apart_paper, is_alike_pair, is_apart_paper, places, seen_by
 from neverturns.still.sights import tells_apart, word_to
@@ -137,6 +142,89 @@ class ExamplesTest(unittest.TestCase):
                 is_apart_paper(STARTS, OTHERS, wide, (table[:2], table)),
             ]),
             "[True, False]",
+        )
+
+    def test_images(self):
+        self.assertEqual(
+            repr([
+                image(EVEN, ODD, "ab"), images(EVEN, ODD), first_words(EVEN, ODD),
+                rounds(EVEN, ODD, image(EVEN, ODD, "a")),
+            ]),
+            "[((1, 0), (1, 0)), (((0, 1), (0, 1)), ((1, 0), (1, 0))), "
+            "{((0, 1), (0, 1)): '', ((1, 0), (1, 0)): 'a'}, (1, 2)]",
+        )
+        turned = image(EVEN, LATER, "a")
+        self.assertEqual(
+            repr([
+                turned, product(EVEN, LATER, turned, turned), hits(EVEN, LATER, turned),
+                is_map(EVEN, LATER, ((1, 1), (0, 1))), is_image(EVEN, LATER, ((1, 1), (0, 1))),
+                len(images(EVEN, LATER)),
+            ]),
+            "[((1, 0), (0, 0)), ((0, 1), (0, 0)), (False, False), True, False, 5]",
+        )
+
+    def test_papers(self):
+        still, press = image(EVEN, ODD, ""), image(EVEN, ODD, "a")
+        self.assertEqual(
+            repr([
+                often(EVEN, ODD, (press,)) == (still, press), often_number(EVEN, ODD, (press,)),
+                cloud_power(EVEN, ODD, (press,), 3) == (press,), is_bad(EVEN, ODD, (press,)),
+                is_bad(EVEN, ODD, (still, press)),
+            ]),
+            "[True, 2, True, False, True]",
+        )
+        found = (("word", "a"), ("often", 0))
+        self.assertEqual(
+            repr([
+                recipe_clouds(EVEN, ODD, found) == ((press,), (still, press)), is_blur(EVEN, ODD, found),
+                is_blur(EVEN, ODD, found[:1]), is_recipe(EVEN, ODD, (("often", 0),)),
+            ]),
+            "[True, True, False, False]",
+        )
+        paper = tuple((image(STARTS, OTHERS, word),) for word in ("", "a", "b"))
+        self.assertEqual(
+            repr([
+                is_clear_paper(STARTS, OTHERS, paper), is_clear_paper(STARTS, OTHERS, paper[1:]),
+                is_clear_paper(EVEN, ODD, ((still, press),)),
+            ]),
+            "[True, False, False]",
+        )
+
+    def test_finding(self):
+        still, press = image(EVEN, ODD, ""), image(EVEN, ODD, "a")
+        self.assertEqual(
+            repr([
+                greatest_clouds(EVEN, ODD) == ((still, press),), len(greatest_clouds(STARTS, OTHERS)),
+                are_blurred(EVEN, ODD), is_blur(EVEN, ODD, blur(EVEN, ODD)), blur(STARTS, OTHERS),
+            ]),
+            "[True, 3, True, True, None]",
+        )
+        self.assertEqual(
+            repr([
+                are_clouded(EVEN, ODD, "a", "b"), are_clouded(STARTS, OTHERS, "a", "b"), is_cloud(EVEN, ODD, (press,)),
+                is_clear_paper(STARTS, OTHERS, clear_paper(STARTS, OTHERS)),
+            ]),
+            "[True, False, True, True]",
+        )
+        with self.assertRaises(Refused):
+            recipe_for(STARTS, OTHERS, (image(STARTS, OTHERS, "a"), image(STARTS, OTHERS, "b")))
+
+    def test_pairs(self):
+        turned = (("word", "a"), ("often", 0))
+        self.assertEqual(
+            repr([
+                is_pair(EVEN, ODD, LATCH, ("aa", "a")), is_pair(EVEN, ODD, LATCH, ("", "a")),
+                is_pair(EVEN, ODD, LATCH, pair_against(EVEN, ODD, turned, LATCH)),
+            ]),
+            "[True, False, True]",
+        )
+        self.assertEqual(
+            repr([
+                len(word_for(EVEN, ODD, turned, ((1, 0), (1, 0)), 3)) % 2,
+                [row[0] for row in against_all(EVEN, ODD, turned, 4)],
+                min([len(word) for word in words_against(EVEN, ODD, turned, 5)]) > 4,
+            ]),
+            "[1, [1, 2, 3, 4], True]",
         )
 
 

@@ -24,6 +24,17 @@ INTERFACE = {
     "still.sights": (
         "places", "word_to", "tells_apart", "alike_pair", "is_alike_pair", "seen_by", "apart_paper", "is_apart_paper",
     ),
+    "cloud.images": (
+        "image", "images", "first_words", "is_image", "is_map", "product", "rounds", "hits",
+    ),
+    "cloud.papers": (
+        "is_cloud_of_maps", "cloud_product", "cloud_power", "often", "often_number", "is_bad", "is_clear_paper",
+        "recipe_clouds", "is_recipe", "is_blur",
+    ),
+    "cloud.finding": (
+        "greatest_clouds", "is_cloud", "are_clouded", "are_blurred", "blur", "clear_paper", "recipe_for",
+    ),
+    "cloud.pairs": ("word_for", "words_against", "pair_against", "is_pair", "against_all"),
 }
 METHODS = {
     "base.machines.Machine": (
@@ -35,6 +46,7 @@ METHODS = {
         "machine", "__and__", "__len__", "__eq__", "__str__",
     ),
 }
+LIBRARY = {"heapq": ("heappush", "heappop")}
 BUILTINS = (
     "len range enumerate zip min max sum abs sorted reversed int str bool list tuple dict set isinstance ord repr "
     "any all divmod super property classmethod staticmethod Exception ValueError TypeError KeyError IndexError "
@@ -88,8 +100,23 @@ class LayoutTest(unittest.TestCase):
     def test_imports(self):
         for name, node in nodes((ast.Import, ast.ImportFrom)):
             self.assertIsInstance(node, ast.ImportFrom, name)
-            self.assertTrue(node.module.startswith("neverturns."), name)
+            if node.module in LIBRARY:
+                self.assertTrue(all(alias.name in LIBRARY[node.module] for alias in node.names), name)
+            else:
+                self.assertTrue(node.module.startswith("neverturns."), name)
             self.assertEqual([alias.asname for alias in node.names], [None] * len(node.names), name)
+
+    def test_what_is_imported_is_used_and_means_nothing_else(self):
+        for path in FILES:
+            tree = tree_of(path)
+            found = [alias.name for node in tree.body if isinstance(node, ast.ImportFrom) for alias in node.names]
+            names = [node for node in ast.walk(tree) if isinstance(node, ast.Name)]
+            self.assertEqual(set(found) - {node.id for node in names}, set(), path)
+            found += [node.name for node in tree.body if isinstance(node, ast.ClassDef)]
+            bound = [node.id for node in names if isinstance(node.ctx, ast.Store)]
+            bound += [node.arg for node in ast.walk(tree) if isinstance(node, ast.arg)]
+            self.assertEqual(set(found) & set(bound), set(), path)
+            self.assertEqual(set(dir(builtins)) & set(bound), set(), path)
 
     def test_only_some_builtins(self):
         for name, node in nodes(ast.Name):

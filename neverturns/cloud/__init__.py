@@ -1,0 +1,1 @@
+"""Maps, clouds of them, and what no box can tell apart."""
