@@ -264,13 +264,13 @@ class RecipesTest(unittest.TestCase):
 
     def wrong_recipes(self):
         steps = (
-            ("often", 0), ("both", 0, 0), ("word", "c"), ("word", "A"), ("word", "a" * 61), ("word",), ("word", "a", "b"),
+            ("often", 0), ("both", 0, 0), ("word", "c"), ("word", "A"), ("word", "a" * 61), ("word",), ("word", "a", "b"), ("word", "a", "b", "c"),
             ("word", None), ("word", True), ("word", 0), ("word", ("a",)), ["word", "a"], "word", ("words", "a"), ("", "a"),
             ("a", "word"), (None, "a"), (True, 0), (EVEN, "a"), ("word", EVEN), (), None, EVEN, {"word": "a"}, ("Word", "a"),
         )
         later = (
             ("often", 1), ("often", -1), ("often", False), ("often", None), ("often", "0"), ("often", (0,)), ("often",),
-            ("often", 0, 0), ("both", 0, 1), ("both", 1, 0), ("both", -1, 0), ("both", 0, -1), ("both", 0, False),
+            ("often", 0, 0), ("often", 0, 0, 0), ("both", 0, 1), ("both", 1, 0), ("both", -1, 0), ("both", 0, -1), ("both", 0, False),
             ("both", False, 0), ("both", 0), ("both", 0, 0, 0), ("both", "0", "0"), ["often", 0], ("oft", 0), (0, 0),
             ("both", 0, 10 ** 39), ("often", 10 ** 39), ("both", None, 0), ("both", 0, (0,)), (("often",), 0), ("word", 0),
         )

@@ -165,6 +165,9 @@ class WordForTest(unittest.TestCase):
         exact.append(("word", "a"))
         exact.append(("both", 16, 17))
         self.assertEqual(len(word_for(EVEN, ODD, tuple(exact[:17]), STAY, 1)), 100000)
+        self.assertEqual(len(word_for(EVEN, ODD, tuple(exact[:17]) + (("often", 16),), STAY, 1)), 100000)
+        with self.assertRaises(TooMany):
+            word_for(EVEN, ODD, tuple(exact[:17]) + (("often", 16),), STAY, 2)
         with self.assertRaises(TooMany):
             word_for(EVEN, ODD, tuple(exact), PRESS, 1)
         nested = (("word", "a" * 60), ("often", 0), ("often", 1), ("often", 2), ("often", 3), ("often", 4))
@@ -222,6 +225,29 @@ class AgainstTest(unittest.TestCase):
                 self.assertTrue(slow_has(one, first) and slow_has(other, second))
                 self.assertEqual(slow_action(box.table, "ab", first), slow_action(box.table, "ab", second))
                 self.assertIs(is_pair(one, other, box, pair), True)
+
+    def test_boxes_that_need_more_for_a_product_than_for_its_parts(self):
+        box = Box("ab", ((1, 0), (1, 2), (3, 2), (3, 3)))
+        self.assertEqual([box.lag("a"), box.lag("b"), box.lag("ab"), box.lag("ba")], [1, 1, 2, 2])
+        for made in (
+            (("word", "a"), ("word", "b"), ("both", 0, 1), ("often", 2)),
+            (("word", "b"), ("word", "a"), ("both", 0, 1), ("often", 2)),
+            (("word", "b"), ("word", "a"), ("both", 1, 0), ("often", 2), ("both", 3, 0)),
+        ):
+            pair = pair_against(EVEN, ODD, made, box)
+            self.assertEqual(slow_action(box.table, "ab", pair[0]), slow_action(box.table, "ab", pair[1]))
+            self.assertIs(is_pair(EVEN, ODD, box, pair), True)
+
+    def test_words_are_as_short_as_they_can_be(self):
+        # So the words are too long only if there are no others.
+        recipes = (TURNED, TURNED + (("word", "b"), ("both", 1, 2), ("often", 3)), TURNED + (("both", 1, 1), ("both", 2, 0)))
+        recipes += ((("word", "aab"), ("word", "a"), ("often", 1), ("both", 2, 0), ("often", 3)),)
+        for one, other, made in BLURRED[2:] + [(EVEN, ODD, recipe) for recipe in recipes]:
+            for number in (1, 2, 3):
+                found = words_against(one, other, made, number)
+                for machine, word in zip((one, other), found):
+                    shorter = [less for less in slow_words("ab", min(len(word) - 1, 7)) if slow_has(machine, less)]
+                    self.assertFalse([less for less in shorter if is_word_for(made, number, less)])
 
     def test_against_all(self):
         for one, other, made in BLURRED:
@@ -329,7 +355,7 @@ class ErrorsTest(unittest.TestCase):
                     self.assertIs(caught.exception.value, number)
 
     def test_other_letters(self):
-        for one, other in ((EVEN, ALONE), (ALONE, ODD), (EVEN, Machine("ac", ((0, 0),)))):
+        for one, other in ((EVEN, ALONE), (ALONE, ODD), (EVEN, Machine("ac", ((1, 0), (0, 1)), (1,)))):
             for made in (TURNED, None, LONG_BLUR):
                 for call in (
                     lambda: word_for(one, other, made, STAY, 1), lambda: words_against(one, other, made, 1),
