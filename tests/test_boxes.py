@@ -9,7 +9,8 @@ from neverturns.still import boxes
 from neverturns.still.boxes import Box
 from neverturns.still.turns import is_still
 from tests.support import NO_BOXES, NO_LETTERS, NO_NUMBERS, NO_WORDS
-from tests.support import all_boxes, all_tables, slow_action, slow_first_turn, slow_firsts, slow_led, slow_words, some_boxes
+from tests.support import all_boxes, all_tables, slow_action, slow_first_turn, slow_firsts, slow_led, slow_words
+from tests.support import some_boxes
 
 LATCH = Box("ab", ((1, 0), (1, 1)))
 ONE = Box("a", ((0,),))

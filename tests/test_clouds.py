@@ -39,14 +39,16 @@ def some_clouds(one, other, many, most, dice):
 
 
 # Some of the kinds of [0.4] that are no cloud of maps of EVEN and ODD.
-NO_CLOUDS = tuple(value for value in NO_MACHINES if value != ((1, 0), (0, 1))) + tuple((value,) for value in NO_MAPS) + (
+NO_CLOUDS = tuple(value for value in NO_MACHINES if value != ((1, 0), (0, 1)))
+NO_CLOUDS += tuple((value,) for value in NO_MAPS)
+NO_CLOUDS += (
     EVEN, (), STAY, [STAY], [STAY, PRESS], (PRESS, STAY), (STAY, STAY), (STAY, PRESS, PRESS), {STAY: 1}, ((STAY,),),
     (STAY, ((0, True), (1, 0))), (STAY, None), (((False, 1), (0, 1)),), (STAY, ((1, 0), (1, 2))), ([STAY[0], STAY[1]],),
 )
 CALLS = (
     (is_cloud_of_maps, (None,)), (cloud_product, (None, None)), (cloud_power, (None, None)), (often, (None,)),
-    (often_number, (None,)), (is_bad, (None,)), (is_clear_paper, (None,)), (recipe_clouds, (None,)), (is_recipe, (None,)),
-    (is_blur, (None,)),
+    (often_number, (None,)), (is_bad, (None,)), (is_clear_paper, (None,)), (recipe_clouds, (None,)),
+    (is_recipe, (None,)), (is_blur, (None,)),
 )
 
 
@@ -264,15 +266,20 @@ class RecipesTest(unittest.TestCase):
 
     def wrong_recipes(self):
         steps = (
-            ("often", 0), ("both", 0, 0), ("word", "c"), ("word", "A"), ("word", "a" * 61), ("word",), ("word", "a", "b"), ("word", "a", "b", "c"),
-            ("word", None), ("word", True), ("word", 0), ("word", ("a",)), ["word", "a"], "word", ("words", "a"), ("", "a"),
-            ("a", "word"), (None, "a"), (True, 0), (EVEN, "a"), ("word", EVEN), (), None, EVEN, {"word": "a"}, ("Word", "a"),
+            ("often", 0), ("both", 0, 0), ("word", "c"), ("word", "A"), ("word", "a" * 61), ("word",),
+            ("word", "a", "b"), ("word", "a", "b", "c"),
+            ("word", None), ("word", True), ("word", 0), ("word", ("a",)), ["word", "a"], "word", ("words", "a"),
+            ("", "a"),
+            ("a", "word"), (None, "a"), (True, 0), (EVEN, "a"), ("word", EVEN), (), None, EVEN, {"word": "a"},
+            ("Word", "a"),
         )
         later = (
             ("often", 1), ("often", -1), ("often", False), ("often", None), ("often", "0"), ("often", (0,)), ("often",),
-            ("often", 0, 0), ("often", 0, 0, 0), ("both", 0, 1), ("both", 1, 0), ("both", -1, 0), ("both", 0, -1), ("both", 0, False),
+            ("often", 0, 0), ("often", 0, 0, 0), ("both", 0, 1), ("both", 1, 0), ("both", -1, 0), ("both", 0, -1),
+            ("both", 0, False),
             ("both", False, 0), ("both", 0), ("both", 0, 0, 0), ("both", "0", "0"), ["often", 0], ("oft", 0), (0, 0),
-            ("both", 0, 10 ** 39), ("often", 10 ** 39), ("both", None, 0), ("both", 0, (0,)), (("often",), 0), ("word", 0),
+            ("both", 0, 10 ** 39), ("often", 10 ** 39), ("both", None, 0), ("both", 0, (0,)), (("often",), 0),
+            ("word", 0),
         )
         values = tuple((step,) for step in steps) + tuple((("word", "a"), step) for step in steps[2:] + later)
         return values + ((), [], [("word", "a")], ("word", "a"), {0: ("word", "a")}, "word", {("word", "a"): 1}, EVEN)
@@ -309,7 +316,8 @@ class ErrorsTest(unittest.TestCase):
             for call in (
                 lambda: cloud_product(EVEN, ODD, value, right), lambda: cloud_product(EVEN, ODD, right, value),
                 lambda: cloud_power(EVEN, ODD, value, 1), lambda: cloud_power(EVEN, ODD, value, None),
-                lambda: often(EVEN, ODD, value), lambda: often_number(EVEN, ODD, value), lambda: is_bad(EVEN, ODD, value),
+                lambda: often(EVEN, ODD, value), lambda: often_number(EVEN, ODD, value),
+                lambda: is_bad(EVEN, ODD, value),
             ):
                 with self.assertRaises(InvalidOperation):
                     call()

@@ -9,10 +9,12 @@ from neverturns.cloud.finding import are_blurred, are_clouded, blur, clear_paper
 from neverturns.cloud.images import first_words, rounds
 from neverturns.cloud.papers import is_blur, is_clear_paper, is_recipe
 from neverturns.errors import InvalidMachine, InvalidOperation, InvalidWord, Refused, TooMany
+from neverturns.still.sights import tells_apart
 from neverturns.still.turns import is_calm, is_still
 from tests.support import NO_MACHINES, NO_MAPS, NO_WORDS
-from tests.support import all_machines, all_maps, chain, pairs_with_few_images, slow_cloud_product, slow_image
-from tests.support import slow_images, slow_is_bad, slow_often, slow_product, slow_recipe_clouds, some_machines
+from tests.support import all_boxes, all_machines, all_maps, chain, pairs_with_few_images, slow_cloud_product
+from tests.support import slow_image, slow_images, slow_is_bad, slow_often, slow_product, slow_recipe_clouds
+from tests.support import some_boxes, some_machines
 
 EVEN = Machine("ab", ((1, 0), (0, 1)), (0,))
 ODD = Machine("ab", ((1, 0), (0, 1)), (1,))
@@ -221,6 +223,16 @@ class WiderTest(unittest.TestCase):
             back, other_back = mirrored(one), mirrored(other)
             if len(slow_images(back, other_back)) <= 32:
                 self.assertIs(are_blurred(back, other_back), told)
+
+    def test_no_box_tells_blurred_machines_apart(self):
+        boxes = {"ab": all_boxes("ab", 2) + some_boxes("ab", 3, 30) + some_boxes("ab", 4, 30), "a": all_boxes("a", 3)}
+        boxes["by"] = all_boxes("by", 2) + some_boxes("by", 3, 30)
+        found = 0
+        for one, other in WIDER + TINY:
+            told = [box for box in boxes[one.letters] if tells_apart(one, other, box)]
+            found += len(told)
+            self.assertFalse(told and are_blurred(one, other))
+        self.assertGreater(found, 100)
 
     def test_a_group(self):
         self.assertEqual(greatest_clouds(*GROUP), (tuple(sorted(slow_images(*GROUP))),))

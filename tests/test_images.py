@@ -9,7 +9,8 @@ from neverturns.cloud.images import first_words, hits, image, images, is_image, 
 from neverturns.errors import InvalidMachine, InvalidOperation, InvalidWord, TooMany
 from neverturns.still.boxes import Box
 from tests.support import NO_MACHINES, NO_MAPS, NO_WORDS
-from tests.support import all_maps, chain, pairs_with_few_images, slow_image, slow_images, slow_product, slow_words, some_machines
+from tests.support import all_maps, chain, pairs_with_few_images, slow_image, slow_images, slow_product, slow_words
+from tests.support import some_machines
 
 EVEN = Machine("ab", ((1, 0), (0, 1)), (0,))
 ODD = Machine("ab", ((1, 0), (0, 1)), (1,))

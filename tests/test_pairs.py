@@ -151,15 +151,10 @@ class WordForTest(unittest.TestCase):
             with self.assertRaises(TooMany) as caught:
                 word_for(EVEN, ODD, LONG, STAY, number)
             self.assertEqual(caught.exception.limit, 100000)
-        edge = (("word", "a" * 50), ("word", "a"),) + tuple(("both", at, at) for at in (0, 2, 3, 4)) + (("both", 5, 0),)
-        # 50, 100, 200, 400, 800, and then 850 letters; 3,400 and 5 times as many.
-        self.assertEqual(len(word_for(EVEN, ODD, edge, STAY, 1)), 850)
-        thousand = (("word", "a" * 50),) + (("both", 0, 0), ("both", 1, 1), ("both", 2, 2), ("both", 3, 2), ("both", 1, 4))
-        self.assertEqual(len(word_for(EVEN, ODD, thousand, STAY, 1)), 700)
         exact = [("word", "a" * 50)]
         for _ in range(11):
             exact.append(("both", len(exact) - 1, len(exact) - 1))
-        # 51,200 + 25,600 + 12,800 + 6,400 + 3,200 + 800 letters are 100,000.
+        # The steps 10, 9, 8, 7, 6 and 4 have 51,200, 25,600, 12,800, 6,400, 3,200 and 800 letters: just 100,000.
         for step in (9, 8, 7, 6, 4):
             exact.append(("both", len(exact) - 1 if len(exact) > 12 else 10, step))
         exact.append(("word", "a"))
@@ -240,7 +235,8 @@ class AgainstTest(unittest.TestCase):
 
     def test_words_are_as_short_as_they_can_be(self):
         # So the words are too long only if there are no others.
-        recipes = (TURNED, TURNED + (("word", "b"), ("both", 1, 2), ("often", 3)), TURNED + (("both", 1, 1), ("both", 2, 0)))
+        recipes = (TURNED, TURNED + (("word", "b"), ("both", 1, 2), ("often", 3)))
+        recipes += (TURNED + (("both", 1, 1), ("both", 2, 0)),)
         recipes += ((("word", "aab"), ("word", "a"), ("often", 1), ("both", 2, 0), ("often", 3)),)
         for one, other, made in BLURRED[2:] + [(EVEN, ODD, recipe) for recipe in recipes]:
             for number in (1, 2, 3):
@@ -307,7 +303,8 @@ class AgainstTest(unittest.TestCase):
 
     def test_is_pair_refuses_no_value(self):
         wrong = (
-            ("aa",), ("aa", "a", "a"), ["aa", "a"], ("aa", None), (None, "a"), ("aa", True), ("aa", ("a",)), ("aac", "a"),
+            ("aa",), ("aa", "a", "a"), ["aa", "a"], ("aa", None), (None, "a"), ("aa", True), ("aa", ("a",)),
+            ("aac", "a"),
             ("aa", "ac"), ("AA", "a"), {"aa": "a"}, ("a", "aa"), ("aa", "aa"), ("", "a"), (["aa"], "a"), (EVEN, ODD),
         )
         for value in wrong + NO_WORDS:
@@ -372,7 +369,8 @@ class ErrorsTest(unittest.TestCase):
 
     def test_no_recipe_and_no_blur(self):
         wrong = (
-            (), (("often", 0),), (("word", "c"),), (("word", "a" * 61),), (("word", "a"), ("often", 1)), TURNED + (None,),
+            (), (("often", 0),), (("word", "c"),), (("word", "a" * 61),), (("word", "a"), ("often", 1)),
+            TURNED + (None,),
             list(TURNED), (("word", "a"), ("often", False)), (("word", "a"), ["often", 0]), TURNED * 201, EVEN,
         )
         for value in wrong + NO_MACHINES:
@@ -389,14 +387,17 @@ class ErrorsTest(unittest.TestCase):
             words_against(STARTS, OTHERS, TURNED, 1)
 
     def test_errors_come_with_the_first_value(self):
-        for arguments in ((None, ODD, TURNED, 1), (EVEN, ODD, TURNED, 0), (EVEN, ALONE, TURNED, 1), (EVEN, ODD, None, 1)):
+        for arguments in (
+            (None, ODD, TURNED, 1), (EVEN, ODD, TURNED, 0), (EVEN, ALONE, TURNED, 1), (EVEN, ODD, None, 1),
+        ):
             made = against_all(*arguments)
             with self.assertRaises((InvalidMachine, InvalidNumber, InvalidOperation)):
                 next(made)
 
     def test_nothing_is_changed(self):
         answers = [
-            (word_for(EVEN, ODD, TURNED, STAY, 3), words_against(EVEN, ODD, TURNED, 3), pair_against(EVEN, ODD, TURNED, LATCH),
+            (word_for(EVEN, ODD, TURNED, STAY, 3), words_against(EVEN, ODD, TURNED, 3),
+             pair_against(EVEN, ODD, TURNED, LATCH),
              list(against_all(EVEN, ODD, TURNED, 3)))
             for _ in range(2)
         ]

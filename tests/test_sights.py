@@ -155,7 +155,8 @@ class ApartTest(unittest.TestCase):
 
     def test_is_alike_pair_refuses_no_value(self):
         wrong = (
-            ("aa",), ("aa", "a", "a"), ["aa", "a"], ("aa", None), (None, "a"), ("aa", True), ("aa", ("a",)), ("aac", "a"),
+            ("aa",), ("aa", "a", "a"), ["aa", "a"], ("aa", None), (None, "a"), ("aa", True), ("aa", ("a",)),
+            ("aac", "a"),
             ("aa", "ac"), ("AA", "a"), {"aa": "a"}, ("a", "aa"), ("aa", "aa"), ("", "a"), (["aa"], "a"), (EVEN, ODD),
         )
         for value in wrong + NO_WORDS:
@@ -215,7 +216,8 @@ class PaperTest(unittest.TestCase):
             ((0, 0), (1, 1), (2, 2), (3, 0)), ((0, 0), (1, 1), (2, 2), (2, 3)), ((-1, 0), (0, 0), (1, 1), (2, 2)),
             ((-1, 2), (0, 0), (1, 1), (2, 2)), ((0, 0), (1, 1), (2, -1), (2, 2)),
             ((False, 0), (1, 1), (2, 2)), ((0, 0), (True, 1), (2, 2)), ((0, 0), (1, True), (2, 2)), ((0, 0), 1, (2, 2)),
-            ((0, 0), (1, 1), (2, 2), (2, 2, 0)), ((0, 0), (1, 1), (2,)), ([0, 0], (1, 1), (2, 2)), ((0, 0), (1, 1), "22"),
+            ((0, 0), (1, 1), (2, 2), (2, 2, 0)), ((0, 0), (1, 1), (2,)), ([0, 0], (1, 1), (2, 2)),
+            ((0, 0), (1, 1), "22"),
             ((0, 0), (1, 1), None), ((0, 0), (1, "1"), (2, 2)), ((0, 0), (1, 1), (2, [2])), {(0, 0): 1, (1, 1): 1},
             "abc", 0, None, True, EVEN, (EVEN, ODD, EVEN), ((0, 0), (1, 1), (2, 10 ** 39)),
         )
@@ -261,7 +263,8 @@ class ErrorsTest(unittest.TestCase):
         box = Box("a", ((0,),))
         for many, call, rest in self.calls():
             groups = ((EVEN, box), (ALONE, LATCH)) if many == 1 else (
-                (EVEN, ALONE, LATCH), (ALONE, EVEN, LATCH), (EVEN, EVEN, box), (ALONE, ALONE, LATCH), (EVEN, ALONE, box),
+                (EVEN, ALONE, LATCH), (ALONE, EVEN, LATCH), (EVEN, EVEN, box), (ALONE, ALONE, LATCH),
+                (EVEN, ALONE, box),
             )
             for group in groups:
                 if rest == (99,):
@@ -295,7 +298,8 @@ class ErrorsTest(unittest.TestCase):
         answers = []
         for _ in range(2):
             answers.append((
-                places(FOUR, LATCH), word_to(FOUR, LATCH, 1), tells_apart(FOUR, EVEN, LATCH), alike_pair(FOUR, ODD, LATCH),
+                places(FOUR, LATCH), word_to(FOUR, LATCH, 1), tells_apart(FOUR, EVEN, LATCH),
+                alike_pair(FOUR, ODD, LATCH),
                 seen_by(FOUR, LATCH).table, apart_paper(STARTS, OTHERS, WIDE),
             ))
         self.assertEqual(answers[0], answers[1])

@@ -20,12 +20,14 @@ FEWER = Machine("ab", ((3, 1), (0, 2), (0, 3), (1, 2)), (0,))
 MACHINES = [
     machine for machine in (
         all_machines("c", 1) + all_machines("c", 2) + all_machines("ab", 1) + all_machines("ab", 2)
-        + some_machines("a", 3, 20) + some_machines("a", 4, 40) + some_machines("ab", 3, 60) + some_machines("by", 4, 40)
+        + some_machines("a", 3, 20) + some_machines("a", 4, 40) + some_machines("ab", 3, 60)
+        + some_machines("by", 4, 40)
     ) if len(slow_actions(machine.table, machine.letters)) <= 60
 ]
 CALLS = (
     actions, first_turn, is_still, is_calm, lambda machine: word_of(machine, (0,) * len(machine)),
-    lambda machine: settles(machine, ""), lambda machine: is_turn(machine, None), lambda machine: is_turn(machine, ("a", 0)),
+    lambda machine: settles(machine, ""), lambda machine: is_turn(machine, None),
+    lambda machine: is_turn(machine, ("a", 0)),
 )
 
 
