@@ -35,6 +35,31 @@ INTERFACE = {
         "greatest_clouds", "is_cloud", "are_clouded", "are_blurred", "blur", "clear_paper", "recipe_for",
     ),
     "cloud.pairs": ("word_for", "words_against", "pair_against", "is_pair", "against_all"),
+    "part.ends": ("are_ended", "least_end", "long_end", "is_long_end"),
+    "part.kinds": (
+        "kind", "latest", "first_box", "common_box", "kind_table", "groups", "parting_paper", "is_parting_paper",
+    ),
+    "text.formats": (
+        "write_machine", "write_box", "write_recipe", "write_cloud", "read_machine", "read_box", "read_recipe",
+        "read_cloud",
+    ),
+    "live.watch": ("Watch",),
+    "row.resets": ("is_row", "stand_after", "stands", "row_box", "rows_beside", "is_row_paper"),
+    "row.finding": ("image_sets", "height", "tiles", "row_paper", "calm_paper", "is_calm_paper"),
+    "said.sayings": (
+        "is_saying", "truths", "holds", "denied", "either", "both", "saying_machine", "parting_word",
+    ),
+    "said.finding": (
+        "saying_of", "is_saying_of", "saying_or_turn", "is_saying_or_turn", "box_saying", "says_apart",
+    ),
+}
+CONSTANTS = {
+    "base.words": {"MAX_LETTERS": 2}, "base.machines": {"MAX_STATES": 4, "MAX_TIMES": 10 ** 11},
+    "still.turns": {"MAX_ACTIONS": 60}, "still.boxes": {"MAX_PLACES": 4}, "cloud.images": {"MAX_IMAGES": 32},
+    "cloud.pairs": {"MAX_LENGTH": 100000, "MAX_NUMBER": 6}, "part.ends": {"MAX_SIZE": 40},
+    "part.kinds": {"KINDS": ("ends", "still", "rings", "meets")},
+    "row.resets": {"MAX_VALUES": 12, "MAX_STANDS": 1000}, "row.finding": {"MAX_ROWED": 5},
+    "said.sayings": {"MOST_TRUTHS": 1000},
 }
 METHODS = {
     "base.machines.Machine": (
@@ -45,10 +70,15 @@ METHODS = {
         "__init__", "window", "caps", "letters", "table", "__call__", "place", "action", "lag", "first_word", "lean",
         "machine", "__and__", "__len__", "__eq__", "__str__",
     ),
+    "live.watch.Watch": (
+        "__init__", "add_machine", "drop_machine", "begin", "close", "feed", "change_box", "guesses", "place", "box",
+        "machines", "places", "doubts", "__getitem__", "__contains__", "__iter__", "__len__", "__eq__", "__str__",
+        "undo", "redo", "attempt", "during", "twin",
+    ),
 }
 LIBRARY = {"heapq": ("heappush", "heappop")}
 BUILTINS = (
-    "len range enumerate zip min max sum abs sorted reversed int str bool list tuple dict set isinstance ord repr "
+    "iter len range enumerate zip min max sum abs sorted reversed int str bool list tuple dict set isinstance ord repr "
     "any all divmod super property classmethod staticmethod Exception ValueError TypeError KeyError IndexError "
     "LookupError ZeroDivisionError ArithmeticError OverflowError RuntimeError NotImplemented"
 ).split()
@@ -80,6 +110,11 @@ class LayoutTest(unittest.TestCase):
             found = vars(getattr(importlib.import_module("neverturns." + module), name))
             for method in names:
                 self.assertIn(method, found)
+
+    def test_constants(self):
+        for module, told in CONSTANTS.items():
+            found = vars(importlib.import_module("neverturns." + module))
+            self.assertEqual({name: found[name] for name in told}, told)
 
     def test_every_folder_is_a_package(self):
         for path in FILES:
@@ -116,6 +151,7 @@ class LayoutTest(unittest.TestCase):
             bound = [node.id for node in names if isinstance(node.ctx, ast.Store)]
             bound += [node.arg for node in ast.walk(tree) if isinstance(node, ast.arg)]
             self.assertEqual(set(found) & set(bound), set(), path)
+            bound += [node.name for node in tree.body if isinstance(node, ast.FunctionDef)]
             self.assertEqual(set(dir(builtins)) & set(bound), set(), path)
 
     def test_only_some_builtins(self):

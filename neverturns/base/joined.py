@@ -6,7 +6,7 @@ none. Words lead along moves to groups of states, which are the states of a tabl
 
 from neverturns.errors import InvalidOperation
 from neverturns.base.machines import check_machine, check_two, least_machine
-from neverturns.base.tables import beside, first_word_to, kept_pairs, led, marked
+from neverturns.base.tables import beside, explored, first_word_to, kept_pairs, led, marked
 from neverturns.base.words import check_only, check_word, has_only, is_letters, is_word
 
 MOST_WORDS = 6
@@ -79,22 +79,14 @@ def behind(machine, word):
 
 def machine_of_moves(letters, moves, starts, ends):
     """Return the least machine of the words that lead from a start to an end."""
-    groups = [tuple(sorted(set(starts)))]
-    numbers = {groups[0]: 0}
-    lines = []
-    while len(lines) < len(groups):
-        group = groups[len(lines)]
-        line = []
-        for column in range(len(letters)):
-            goals = tuple(sorted({goal for state in group for goal in moves[state][column]}))
-            if goals not in numbers:
-                numbers[goals] = len(groups)
-                groups.append(goals)
-            line.append(numbers[goals])
-        lines.append(tuple(line))
+
+    def step(group, column):
+        return tuple(sorted({goal for start in group for goal in moves[start][column]}))
+
+    groups, table = explored(tuple(sorted(set(starts))), step, len(letters), None)
     marks = marked(ends)
-    last = [at for at, group in enumerate(groups) if any([state in marks for state in group])]
-    return least_machine(letters, tuple(lines), tuple(last))
+    last = [at for at, states in enumerate(groups) if any([state in marks for state in states])]
+    return least_machine(letters, table, tuple(last))
 
 
 def renamed(machine, letters):

@@ -72,6 +72,48 @@ def reached(table):
     return found
 
 
+def explored(start, step, width, most):
+    """Return the list of all to which steps lead from the start on, and the table of the steps.
+
+    The step leads a thing along a letter, by its column. The things stand in the order of
+    the first words that lead to them. If there are more than so many, None is returned;
+    there can be any number of them if `most` is None.
+    """
+    found = [start]
+    numbers = {start: 0}
+    lines = []
+    while len(lines) < len(found):
+        line = []
+        for column in range(width):
+            goal = step(found[len(lines)], column)
+            if goal not in numbers:
+                if len(found) == most:
+                    return None
+                numbers[goal] = len(found)
+                found.append(goal)
+            line.append(numbers[goal])
+        lines.append(tuple(line))
+    return found, tuple(lines)
+
+
+def walked(start, step, word):
+    """Return to what a word leads the start, by a step that leads a thing along a letter."""
+    found = [start]
+    numbers = {start: 0}
+    known = {}
+    now = 0
+    # Long words are mostly made of few pieces, so most steps are known.
+    for letter in word:
+        if (now, letter) not in known:
+            goal = step(found[now], letter)
+            if goal not in numbers:
+                numbers[goal] = len(found)
+                found.append(goal)
+            known[(now, letter)] = numbers[goal]
+        now = known[(now, letter)]
+    return found[now]
+
+
 def lean_table(table):
     """Return the table of the reached states alone, numbered by their first words."""
     states = reached(table)

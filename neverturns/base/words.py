@@ -15,6 +15,11 @@ def is_between(value, low, high):
     return low <= value <= high
 
 
+def is_natural(value):
+    """Tell whether the value is an integer of at least 0."""
+    return isinstance(value, int) and not isinstance(value, bool) and value >= 0
+
+
 def is_word(value):
     """Tell whether the value is a word."""
     if not isinstance(value, str):

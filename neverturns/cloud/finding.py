@@ -6,7 +6,7 @@ from neverturns.errors import Refused
 from neverturns.base.machines import check_two
 from neverturns.base.words import check_only, check_word
 from neverturns.cloud.images import few_images, hits_of, image_of, map_product
-from neverturns.cloud.papers import check_cloud, is_cloud_for, needed_steps, power_at, settled_number
+from neverturns.cloud.papers import check_cloud, is_cloud_for, picked_steps, power_at, settled_number
 
 # A cloud taken often has words that are so much longer than those of the cloud, or somewhat more.
 OFTEN = 7
@@ -110,12 +110,7 @@ class Search:
 
     def recipe_of(self, last):
         """Return the recipe of a found cloud."""
-        numbers = {}
-        recipe = []
-        for at in needed_steps(self.steps, last):
-            numbers[at] = len(recipe)
-            recipe.append(renumbered(self.steps[at], numbers))
-        return tuple(recipe)
+        return picked_steps(self.steps, last)
 
 
 def joined(masks):
@@ -124,13 +119,6 @@ def joined(masks):
     for mask in masks:
         found = found | mask
     return found
-
-
-def renumbered(step, numbers):
-    """Return a step with other indices."""
-    if step[0] == "word":
-        return step
-    return step[:1] + tuple([numbers[source] for source in step[1:]])
 
 
 def greatest_clouds(one, other):

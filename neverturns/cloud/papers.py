@@ -226,14 +226,21 @@ def is_recipe_for(one, value):
 
 
 def is_step(letters, value, at):
-    """Tell whether the value is a step that can stand behind so many others."""
+    """Tell whether the value is a step of a recipe that can stand behind so many others."""
+    if not is_step_form(value, at):
+        return False
+    return value[0] != "word" or len(value[1]) <= LONGEST_STEP and has_only(value[1], letters)
+
+
+def is_step_form(value, at):
+    """Tell whether the value is a step that can stand behind so many others, but for its word."""
     if not isinstance(value, tuple) or not 2 <= len(value) <= 3:
         return False
-    if len(value) == 3:
-        return value[0] == "both" and is_between(value[1], 0, at - 1) and is_between(value[2], 0, at - 1)
     if value[0] == "word":
-        return is_word(value[1]) and len(value[1]) <= LONGEST_STEP and has_only(value[1], letters)
-    return value[0] == "often" and is_between(value[1], 0, at - 1)
+        return len(value) == 2 and is_word(value[1])
+    if value[0] not in ("both", "often") or len(value) != (3 if value[0] == "both" else 2):
+        return False
+    return all([is_between(index, 0, at - 1) for index in value[1:]])
 
 
 def check_recipe(one, value):
@@ -259,14 +266,29 @@ def step_cloud(one, other, step, clouds):
     return taken_often(clouds[step[1]])
 
 
-def needed_steps(recipe, last):
+def needed_steps(steps, last):
     """Return the ascending list of the indices of the steps of which one is made, and its own."""
     needed = {last: True}
     for at in range(last, -1, -1):
-        if at in needed and recipe[at][0] != "word":
-            for source in recipe[at][1:]:
+        if at in needed:
+            for source in sources_of(steps[at]):
                 needed[source] = True
     return sorted(list(needed))
+
+
+def sources_of(step):
+    """Return the list of the indices of the earlier steps of which a step is made."""
+    return [source for source in step[1:] if isinstance(source, int)]
+
+
+def picked_steps(steps, last):
+    """Return the tuple of the steps of which one is made, up to this one, with their new indices."""
+    numbers = {}
+    picked = []
+    for at in needed_steps(steps, last):
+        numbers[at] = len(picked)
+        picked.append(tuple([numbers[part] if isinstance(part, int) else part for part in steps[at]]))
+    return tuple(picked)
 
 
 def is_blur_for(one, other, value):

@@ -1,5 +1,7 @@
 """Actions: for each state of a table the state to which a word leads from it."""
 
+from neverturns.base.tables import walked
+
 
 def composed(first, second):
     """Return the action of two words, one behind the other."""
@@ -18,20 +20,7 @@ def led_on(table, states, column):
 
 def acted(table, letters, word):
     """Return the action of a word."""
-    found = [unmoved(table)]
-    numbers = {found[0]: 0}
-    steps = {}
-    now = 0
-    # Long words are mostly made of few pieces, so most steps between actions are known.
-    for letter in word:
-        if (now, letter) not in steps:
-            goal = led_on(table, found[now], letters.index(letter))
-            if goal not in numbers:
-                numbers[goal] = len(found)
-                found.append(goal)
-            steps[(now, letter)] = numbers[goal]
-        now = steps[(now, letter)]
-    return found[now]
+    return walked(unmoved(table), lambda action, letter: led_on(table, action, letters.index(letter)), word)
 
 
 def action_words(table, letters, most):

@@ -43,6 +43,11 @@ def is_turn(machine, value):
     """Tell whether the value is a turn, a pair of a word and a state."""
     check_machine(machine)
     few_actions(machine)
+    return is_turn_of(machine, value)
+
+
+def is_turn_of(machine, value):
+    """Tell whether the value is a turn of a machine with any number of actions."""
     if not isinstance(value, tuple) or len(value) != 2:
         return False
     word, state = value

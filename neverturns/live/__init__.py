@@ -1,0 +1,1 @@
+"""A watch over words that come piece by piece."""

@@ -1,0 +1,1 @@
+"""The last letters of words, and the kinds of two machines."""

@@ -1,0 +1,1 @@
+"""Rows of resets, of which each box is made."""

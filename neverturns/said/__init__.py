@@ -1,0 +1,1 @@
+"""Sayings, which tell of words by what was ahead where they end."""

@@ -1,0 +1,1 @@
+"""Texts of machines, boxes, recipes and clouds."""
