@@ -143,6 +143,25 @@ class KindTest(unittest.TestCase):
                 self.assertEqual(caught.exception.limit, 32)
 
 
+    def test_how_many_images_are_let(self):
+        found = set()
+        for size, many in ((3, 400), (4, 2500)):
+            for machine in some_machines("ab", size, many):
+                other = Machine("ab", machine.table, tuple(at for at in range(size) if at not in machine.ends))
+                images = len(slow_images(machine, other)) if least_end(machine, other) is None else 0
+                if images in (31, 32, 33, 34):
+                    found.add(images)
+                    for call in (kind, parting_paper, lambda one, two: kind_table((one, two)),
+                                 lambda one, two: groups((one, two))):
+                        if images <= 32:
+                            call(machine, other)
+                        else:
+                            with self.assertRaises(TooMany) as caught:
+                                call(machine, other)
+                            self.assertEqual(caught.exception.limit, 32)
+        self.assertLessEqual({32, 33}, found)
+
+
 class BoxTest(unittest.TestCase):
 
     def check(self, machines, box, most):

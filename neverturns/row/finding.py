@@ -49,8 +49,8 @@ def row_paper(box):
 
 def calm_paper(machine):
     """Return a calm paper of a machine."""
-    least = rowed_machine(machine)
-    turn = turn_among(action_words(least.table, least.letters, ALL_ACTIONS))
+    least = few_states(machine, MAX_ROWED)
+    turn = turn_of(least)
     if turn is not None:
         return "turn", turn
     return "row", Chains(least.table).paper()
@@ -58,7 +58,7 @@ def calm_paper(machine):
 
 def is_calm_paper(machine, value):
     """Tell whether the value is a calm paper of a machine."""
-    least = rowed_machine(machine)
+    least = few_states(machine, MAX_ROWED)
     if not isinstance(value, tuple) or len(value) != 2:
         return False
     name, proof = value
@@ -81,13 +81,18 @@ def check_image_set(box, sets, value):
         raise InvalidOperation("this is no image set of the box")
 
 
-def rowed_machine(value):
-    """Return the least machine with the words of a value, or raise the error if it is none with a few states."""
+def few_states(value, most):
+    """Return the least machine with the words of a value, or raise the error if it is none with so few states."""
     check_machine(value)
     least = value.least()
-    if len(least) > MAX_ROWED:
-        raise TooMany(MAX_ROWED)
+    if len(least) > most:
+        raise TooMany(most)
     return least
+
+
+def turn_of(least):
+    """Return the first turn of a machine with a few states, or None."""
+    return turn_among(action_words(least.table, least.letters, ALL_ACTIONS))
 
 
 def led_set(table, places, column):

@@ -8,11 +8,10 @@ from neverturns.errors import InvalidOperation, Refused, TooMany
 from neverturns.base.machines import check_machine, check_same_letters
 from neverturns.base.tables import beside, is_choice, kept_pairs
 from neverturns.cloud.papers import picked_steps
-from neverturns.row.finding import row_paper
+from neverturns.row.finding import few_states, row_paper, turn_of
 from neverturns.row.resets import stands
 from neverturns.said.sayings import check_saying, few_truths, is_saying, truth_table
-from neverturns.still.actions import action_words, turn_among
-from neverturns.still.boxes import ALL_ACTIONS, check_box, made_box
+from neverturns.still.boxes import check_box, made_box
 from neverturns.still.turns import is_turn_of
 
 MAX_SAID = 4
@@ -23,7 +22,7 @@ NEVER = -2
 
 def saying_of(machine):
     """Return a saying that is small for the letters of a machine, and has just its words."""
-    least = said_machine(machine)
+    least = few_states(machine, MAX_SAID)
     turn = turn_of(least)
     if turn is not None:
         raise Refused(turn)
@@ -38,7 +37,7 @@ def is_saying_of(machine, value):
 
 def saying_or_turn(machine):
     """Return a saying with just the words of a machine, or the first turn of its least machine."""
-    least = said_machine(machine)
+    least = few_states(machine, MAX_SAID)
     turn = turn_of(least)
     if turn is not None:
         return "turn", turn
@@ -47,7 +46,7 @@ def saying_or_turn(machine):
 
 def is_saying_or_turn(machine, value):
     """Tell whether the value is a pair as saying_or_turn returns, with any turn of the least machine."""
-    least = said_machine(machine)
+    least = few_states(machine, MAX_SAID)
     if not isinstance(value, tuple) or len(value) != 2:
         return False
     name, proof = value
@@ -74,20 +73,6 @@ def says_apart(one, other, saying):
     check_same_letters(one, other)
     table, ends = few_truths(one.letters, saying)
     return has_none(one, table, ends, ((True, False),)) and has_none(other, table, ends, ((True, True),))
-
-
-def said_machine(value):
-    """Return the least machine with the words of a value, or raise the error if it is none with a few states."""
-    check_machine(value)
-    least = value.least()
-    if len(least) > MAX_SAID:
-        raise TooMany(MAX_SAID)
-    return least
-
-
-def turn_of(least):
-    """Return the first turn of a machine with a few states, or None."""
-    return turn_among(action_words(least.table, least.letters, ALL_ACTIONS))
 
 
 def is_saying_for(machine, value):
@@ -129,7 +114,7 @@ class Telling:
         self.numbers = {}
         self.behind = {}
         self.told = {(): ALWAYS}
-        heads = {stand[:at]: True for stand in reached for at in range(len(row) + 1)}
+        heads = {stand[:size]: True for stand in reached for size in range(len(row) + 1)}
         # The keys are sorted, so the heads of one length come by their values.
         for head in sorted(list(heads)):
             self.behind[head] = []
