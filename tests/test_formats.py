@@ -189,7 +189,8 @@ class ReadTest(Case):
         right = "box ab 2\nplace 1 0\nplace 1 1"
         self.assertEqual(read_box(right), LATCH)
         for text, line in (
-            ("", 0), ("box", 0), ("box ab", 0), ("box ab 2 ", 0), ("box ba 2", 0), ("box ab 02", 0), ("machine ab 2", 0),
+            ("", 0), ("box", 0), ("box ab", 0), ("box ab 2 ", 0), ("box ba 2", 0), ("box ab 02", 0),
+            ("machine ab 2", 0),
             ("box ab 2\nstate 1 0\nstate 1 1", 1), ("box ab 2\nplace 1 0", 2), ("box ab 2\nplace 1 0\n", 2),
             ("box ab 2\nplace 1\nplace 1 1", 1), ("box ab 2\nplace 1 0\nplace 1 1 1", 2),
             ("box ab 2\nplace 1 0\nplace 1 01", 2), ("box ab 2\nplace 1 0\nplace  1 1", 2), (right + "\n", 3),
@@ -215,9 +216,12 @@ class ReadTest(Case):
 
     def test_recipes(self):
         for text, line in (
-            ("", 0), ("\n", 0), ("word", 0), ("word ", 0), ("word A", 0), ("word a b", 0), ("word  a", 0), ("word a ", 0),
-            ("word --", 0), ("word a-", 0), (" word a", 0), ("word 0", 0), ("often 0", 0), ("both 0 0", 0), ("often", 0),
-            ("both", 0), ("Word a", 0), ("letter a", 0), ("word a\n", 1), ("word a\n\nword b", 1), ("word a\noften 1", 1),
+            ("", 0), ("\n", 0), ("word", 0), ("word ", 0), ("word A", 0), ("word a b", 0), ("word  a", 0),
+            ("word a ", 0),
+            ("word --", 0), ("word a-", 0), (" word a", 0), ("word 0", 0), ("often 0", 0), ("both 0 0", 0),
+            ("often", 0),
+            ("both", 0), ("Word a", 0), ("letter a", 0), ("word a\n", 1), ("word a\n\nword b", 1),
+            ("word a\noften 1", 1),
             ("word a\noften 00", 1), ("word a\noften -0", 1), ("word a\noften +0", 1), ("word a\noften 0 0", 1),
             ("word a\noften", 1), ("word a\nboth 0", 1), ("word a\nboth 0 1", 1), ("word a\nboth 1 0", 1),
             ("word a\nboth 0  0", 1), ("word a\nboth 0 0 0", 1), ("word a\nboth 0 0 ", 1), ("word a\noften a", 1),
@@ -302,9 +306,11 @@ class WrongTest(unittest.TestCase):
 
     def test_no_recipes(self):
         wrong = (
-            (("often", 0),), (("word", "a"), ("often", 1)), (("word", "a"), ("often", -1)), (("word", "a"), ("often", 0, 0)),
+            (("often", 0),), (("word", "a"), ("often", 1)), (("word", "a"), ("often", -1)), (("word", "a"),
+            ("often", 0, 0)),
             (("word", "a"), ("often", False)), (("word", "a"), ("both", 0)), (("word", "a"), ("both", 0, 1)),
-            (("word", "a"), ("both", 0, True)), (("word", "A"),), (("word", None),), (("word", "a", "b"),), (("word",),),
+            (("word", "a"), ("both", 0, True)), (("word", "A"),), (("word", None),), (("word", "a", "b"),),
+            (("word",),),
             (["word", "a"],), [("word", "a")], (("word", "a"), ["often", 0]), (("word", "a"), ("often", "0")),
             (("word", "a"), ("some", 0)), (("word", "a"), (0, "often")), (("word", "a"), None), (("word", ["a"]),),
             ("word", "a"), (("word", "a"), ("often", 10 ** 39)), (("word", "-"),), (("word", "a"), ("often", EVEN)),
@@ -317,10 +323,13 @@ class WrongTest(unittest.TestCase):
     def test_no_clouds(self):
         right = ((0, 1), (0, 1))
         wrong = (
-            (right, right), (right, ((0, 0), (0, 1))), [right], ([right],), (((0, 1),),), (right + ((0,),),), (((), (0,)),),
+            (right, right), (right, ((0, 0), (0, 1))), [right], ([right],), (((0, 1),),), (right + ((0,),),), (((),
+            (0,)),),
             (((0,), ()),), (((0, -1), (0,)),), (((0, True), (0,)),), (((False,), (0,)),), (((0, "1"), (0,)),),
-            (([0], (0,)),), (((0,), [0]),), (((0,), None),), ("ab",), (("a", "b"),), (((0, None), (0,)),), (right, None),
-            (((0,), (0,)), 1), {right: 1}, (EVEN,), ((EVEN, LATCH),), (((0,), (0, (1,))),), right, (((0,), (0, 10 ** 40 - 1, False)),),
+            (([0], (0,)),), (((0,), [0]),), (((0,), None),), ("ab",), (("a", "b"),), (((0, None), (0,)),),
+            (right, None),
+            (((0,), (0,)), 1), {right: 1}, (EVEN,), ((EVEN, LATCH),), (((0,), (0, (1,))),), right, (((0,),
+            (0, 10 ** 40 - 1, False)),),
         )
         for value in wrong + tuple(value for value in NO_MACHINES if value != ((0,),)) + (EVEN, LATCH):
             with self.assertRaises(InvalidOperation):

@@ -389,6 +389,9 @@ class PaperTest(unittest.TestCase):
         )
         self.assertIs(is_parting_paper(CLOSES, LATER, ("ends", 1)), True)
         self.assertIs(is_parting_paper(CLOSES, LATER, ("box", Box("ab", ((1, 0), (1, 0))))), True)
+        self.assertIs(is_parting_paper(EVEN, ODD, ("blur", TURNED)), True)
+        for name in ("Blur", "", "clear", "box", None, TURNED):
+            self.assertIs(is_parting_paper(EVEN, ODD, (name, TURNED)), False)
         for value in wrong + NO_MACHINES + (EVEN, LATCH):
             self.assertIs(is_parting_paper(CLOSES, LATER, value), False)
             self.assertIs(is_parting_paper(EVEN, ODD, value), False)

@@ -124,7 +124,8 @@ class IsRowTest(unittest.TestCase):
 
     def test_is_row_refuses_no_value(self):
         wrong = (
-            [LEVEL], (list(LEVEL),), (LEVEL[:2],), (LEVEL + (0,),), (LEVEL, None), ((2, 0, [{}, {}]),), ((2, 0, ({},)),),
+            [LEVEL], (list(LEVEL),), (LEVEL[:2],), (LEVEL + (0,),), (LEVEL, None), ((2, 0, [{}, {}]),),
+            ((2, 0, ({},)),),
             ((2, 0, ({}, {}, {})),), ((2, 0, ({}, None)),), ((True, 0, ({}, {})),), ((2, True, ({}, {})),),
             ((2, False, ({}, {})),), (("2", 0, ({}, {})),), ((2, None, ({}, {})),), ((2, 0, {}),), ((2, 0, None),),
             (10 ** 39, 0, ({}, {})), ((10 ** 39, 0, ({}, {})),), LEVEL, {0: LEVEL}, (DEEP[1],), (DEEP[1], DEEP[0]),
@@ -269,7 +270,8 @@ class BesideTest(unittest.TestCase):
             with self.assertRaises(TooMany) as caught:
                 rows_beside("a", tuple((values, 0, ({},)) for values in sizes), other)
             self.assertEqual(caught.exception.limit, 1000)
-            self.assertEqual(len(rows_beside("a", other, tuple((values, 0, ({},)) for values in sizes))), len(sizes) + 1)
+            self.assertEqual(len(rows_beside("a", other, tuple((values, 0, ({},)) for values in sizes))),
+            len(sizes) + 1)
         with self.assertRaises(TooMany):
             rows_beside("a", one + ((2, 0, ({},)),), ())
         self.assertEqual(rows_beside("a", (), ()), ())
@@ -356,7 +358,8 @@ class PaperTest(unittest.TestCase):
             (ROW, (0, -1)), (ROW, (0, None)), (ROW, (0, "1")), (ROW, ()), ((), ()), (ROW, (1, 0)), (ROW, (0, 10 ** 39)),
             ([LEVEL], (0, 1)), (None, (0, 1)), (ROW, None), (((2, True, ({(): 1}, {})),), (1, 0)), ("", (0,)),
             (((2, 0, ({(): True}, {})),), (0, 1)), (((2, 0, ({(): 1},)),), (0, 1)), ((), (0,)), ((), (0, 1)),
-            (ROW, LATCH), (LATCH, (0, 1)), {0: ROW, 1: (0, 1)}, ((LEVEL, LEVEL), (0, 1)), (ROW, {0: 0, 1: 1}), (ROW, "01"),
+            (ROW, LATCH), (LATCH, (0, 1)), {0: ROW, 1: (0, 1)}, ((LEVEL, LEVEL), (0, 1)), (ROW, {0: 0, 1: 1}),
+            (ROW, "01"),
         )
         self.assertIs(is_row_paper(LATCH, (ROW, (0, 1))), True)
         for value in wrong + NO_WORDS + (LATCH, ROW):
@@ -392,7 +395,8 @@ class ErrorsTest(unittest.TestCase):
                         call(letters, row)
 
     def test_no_row(self):
-        wrong = (None, [LEVEL], (LEVEL, LEVEL), ((2, 0, ({},)),), ((2, 2, ({}, {})),), ((2, 0, ({(): True}, {})),), LATCH)
+        wrong = (None, [LEVEL], (LEVEL, LEVEL), ((2, 0, ({},)),), ((2, 2, ({}, {})),), ((2, 0, ({(): True}, {})),),
+        LATCH)
         for value in wrong + tuple(value for value in NO_STRINGS if value != ()):
             for call in self.calls():
                 with self.assertRaises(InvalidOperation):

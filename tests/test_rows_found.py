@@ -7,7 +7,7 @@ from neverturns.base.machines import Machine
 from neverturns.errors import InvalidBox, InvalidMachine, InvalidOperation, TooMany
 from neverturns.row.finding import calm_paper, height, image_sets, is_calm_paper, row_paper, tiles
 from neverturns.row.resets import is_row, is_row_paper, row_box, rows_beside, stands
-from neverturns.still.boxes import Box
+from neverturns.still.boxes import Box, made_box
 from neverturns.still.turns import is_turn
 from tests.support import NO_BOXES, NO_MACHINES, NO_WORDS
 from tests.support import all_boxes, all_machines, all_tables, chain, slow_actions, slow_first_turn, slow_is_turn
@@ -29,6 +29,14 @@ def boxes_of_five():
             box = (one & other).lean()
             if len(box) == 5 and box not in found:
                 found.append(box)
+    # Words lead image sets of these to others of the same size, from which no word leads back.
+    for table in (
+        ((4, 0), (2, 1), (2, 4), (3, 0), (2, 1)), ((0, 0), (3, 1), (4, 4), (3, 1), (0, 3)),
+        ((3, 0), (2, 0), (2, 1), (1, 0), (1, 3)), ((2, 1), (0, 1), (4, 3), (4, 1), (4, 2)),
+        ((1, 4), (1, 3), (3, 2), (1, 2), (4, 2)), ((2, 0), (4, 2), (2, 0), (3, 3), (0, 1)),
+        ((1, 0), (1, 2), (1, 0), (3, 1), (0, 0)), ((0, 3), (1, 1), (2, 4), (4, 3), (1, 4)),
+    ):
+        found.append(made_box("ab", table))
     return found
 
 
@@ -101,7 +109,8 @@ class ImageSetsTest(unittest.TestCase):
 
     def test_wrong_places(self):
         wrong = (
-            (), (0, 0), (1, 0), (0, 2), (-1,), (2,), [0], [0, 1], (True,), (False,), (False, True), (0, True), (0, None),
+            (), (0, 0), (1, 0), (0, 2), (-1,), (2,), [0], [0, 1], (True,), (False,), (False, True), (0, True),
+            (0, None),
             ("0",), "0", 0, None, {0: 1}, (0, 10 ** 39), LATCH, ((0,),), (0, 1, 2),
         )
         for value in wrong + NO_WORDS:
@@ -232,7 +241,8 @@ class CalmPaperTest(unittest.TestCase):
         )
         for value in wrong + NO_MACHINES + (machine,):
             self.assertIs(is_calm_paper(machine, value), False)
-        for value in wrong + NO_MACHINES + (machine, ("turn", ("a", True)), ("turn", ("a", False)), ("turn", ("aa", 0))):
+        for value in wrong + NO_MACHINES + (machine, ("turn", ("a", True)), ("turn", ("a", False)), ("turn", ("aa", 0)),
+                                                      ("Turn", ("a", 0)), ("", ("a", 0)), (None, ("a", 0))):
             if value != ("turn", ("a", 0)):
                 self.assertIs(is_calm_paper(EVEN, value), False)
         self.assertIs(is_calm_paper(EVEN, ("turn", ("ab" * 501, 1))), True)

@@ -53,7 +53,8 @@ def counter(letter, most):
     for _ in range(most - 1):
         # Once more: now, and so often ahead of now; and ever since.
         last = len(steps) - 1
-        steps += [("ahead", last), ("not", last + 1), ("either", 1, last + 2), ("not", last + 3), ("since", 2, last + 4)]
+        steps += [("ahead", last), ("not", last + 1), ("either", 1, last + 2), ("not", last + 3),
+        ("since", 2, last + 4)]
     return tuple(steps)
 
 
@@ -127,12 +128,16 @@ class IsSayingTest(unittest.TestCase):
     def test_is_saying_refuses_no_value(self):
         steps = (
             ("letter",), ("letter", ""), ("letter", "ab"), ("letter", "A"), ("letter", "-"), ("letter", 0),
-            ("letter", None), ("letter", True), ("letter", ("a",)), ("letter", "a", "b"), ("not",), ("not", 1), ("not", -1),
+            ("letter", None), ("letter", True), ("letter", ("a",)), ("letter", "a", "b"), ("not",), ("not", 1),
+            ("not", -1),
             ("not", 0, 0), ("not", False), ("not", "0"), ("not", None), ("not", (0,)), ("not", 10 ** 39), ("either", 0),
             ("either", 0, 1), ("either", 1, 0), ("either", 0, 0, 0), ("either", 0, False), ("either", False, 0),
-            ("ahead",), ("ahead", 1), ("ahead", 0, 0), ("ahead", False), ("since", 0), ("since", 0, 1), ("since", -1, 0),
-            ("since", 0, 0, 0), ("since", 0, None), ("both", 0, 0), ("Not", 0), ("", 0), (0, "not"), (None, 0), (True, 0),
-            ["not", 0], ("since", 0, True), "not", "a", None, 0, True, {}, {"not": 0}, (), ((), 0), (("not",), 0), (["not"], 0),
+            ("ahead",), ("ahead", 1), ("ahead", 0, 0), ("ahead", False), ("since", 0), ("since", 0, 1),
+            ("since", -1, 0),
+            ("since", 0, 0, 0), ("since", 0, None), ("both", 0, 0), ("Not", 0), ("", 0), (0, "not"), (None, 0),
+            (True, 0),
+            ["not", 0], ("since", 0, True), "not", "a", None, 0, True, {}, {"not": 0}, (), ((), 0), (("not",), 0),
+            (["not"], 0),
             STARTS, (STARTS, 0), ({}, 0), ("not", STARTS), ("word", "a"), ("often", 0), ("letter", 10 ** 39),
         )
         for step in steps:
@@ -273,7 +278,8 @@ class ErrorsTest(unittest.TestCase):
         """Calls that take a saying."""
         return (
             lambda value: truths(value, "a"), lambda value: truths(value, None), lambda value: holds(value, "a"),
-            lambda value: holds(value, None), denied, lambda value: either(value, SEEN), lambda value: either(SEEN, value),
+            lambda value: holds(value, None), denied, lambda value: either(value, SEEN),
+            lambda value: either(SEEN, value),
             lambda value: both(value, SEEN), lambda value: both(SEEN, value), lambda value: either(value, None),
             lambda value: saying_machine("ab", value), lambda value: parting_word("ab", value, SEEN),
             lambda value: parting_word("ab", SEEN, value), lambda value: parting_word("ab", window(60), value),

@@ -198,16 +198,19 @@ class IsSayingOfTest(unittest.TestCase):
 
     def test_is_saying_or_turn_refuses_no_value(self):
         wrong = (
-            ("saying",), ("saying", A, 0), ["saying", A], ("Saying", A), (A, "saying"), ("turn", A), ("saying", list(A)),
+            ("saying",), ("saying", A, 0), ["saying", A], ("Saying", A), (A, "saying"), ("turn", A),
+            ("saying", list(A)),
             ("saying", ()), ("saying", None), ("saying", SEEN), ("turn", None), ("turn", ("a",)), {"saying": A}, A,
-            ("", A), (None, A), (True, A), (["saying"], A), ("saying", CLOSES), (CLOSES, A), "saying", ("turn", ("a", 0)),
+            ("", A), (None, A), (True, A), (["saying"], A), ("saying", CLOSES), (CLOSES, A),
+            "saying", ("turn", ("a", 0)),
             ("saying", A + (("not", True),)),
         )
         self.assertIs(is_saying_or_turn(CLOSES, ("saying", A)), True)
         for value in wrong + NO_MACHINES + (CLOSES,):
             self.assertIs(is_saying_or_turn(CLOSES, value), False)
         for value in (("turn", ("a", True)), ("turn", ("a", False)), ("turn", ["a", 0]), ("turn", ("a", 2)),
-                      ("turn", ("aa", 0)), ("turn", ("c", 0)), ("turn", ("a", 0, 0)), ("turn", None)):
+                      ("turn", ("aa", 0)), ("turn", ("c", 0)), ("turn", ("a", 0, 0)), ("turn", None),
+                      ("Turn", ("a", 0)), (None, ("a", 0))):
             self.assertIs(is_saying_or_turn(EVEN, value), False)
         self.assertIs(is_saying_or_turn(EVEN, ("turn", ("ab" * 501, 1))), True)
         self.assertIs(is_saying_or_turn(Machine("ab", EVEN.table, (0, 1)), ("turn", ("a", 0))), False)

@@ -458,7 +458,8 @@ class AccessTest(unittest.TestCase):
     def test_item_and_in(self):
         watch = filled()
         self.assertIs(watch["starts"], STARTS)
-        self.assertEqual(["starts" in watch, "even" in watch, "x" in watch, "late" in watch], [True, True, False, False])
+        self.assertEqual(["starts" in watch, "even" in watch, "x" in watch, "late" in watch],
+        [True, True, False, False])
         for value in NO_NAMES + ("x", "late", EVEN, STARTS, LATCH, watch):
             self.assertIs(value in watch, False)
             with self.assertRaises(UnknownName) as caught:

@@ -6,7 +6,7 @@ states to a pair of ends. So it is asked how many letters can lead to a pair of 
 
 from neverturns.errors import InvalidNumber
 from neverturns.base.joined import common_word
-from neverturns.base.machines import check_machine, check_same_letters, check_two, least_machine
+from neverturns.base.machines import check_machine, check_two, least_machine
 from neverturns.base.tables import explored, first_word_to, led, marked, reached
 from neverturns.base.words import has_only, is_between, is_word
 from neverturns.still.boxes import made_box
@@ -22,7 +22,6 @@ def are_ended(one, other, size):
     check_machine(other)
     if not is_between(size, 0, MAX_SIZE):
         raise InvalidNumber(size)
-    check_same_letters(one, other)
     least = least_end(one, other)
     return least is not None and least <= size
 
@@ -144,7 +143,7 @@ def last_letters_box(machine, size):
         goals = tuple([
             tuple(sorted({machine.table[place][column] for place in row})) for row in (whole,) + rows[:size - 1]
         ])
-        if start is None or len(goals) == size:
+        if len(goals) == size:
             return None, goals
         return machine.table[start][column], goals
 

@@ -36,7 +36,7 @@ def latest(first, *rest):
     """Return, of one or more kinds, the one that comes last."""
     places = []
     for value in (first,) + rest:
-        if not isinstance(value, str) or value not in KINDS:
+        if value not in KINDS:
             raise InvalidOperation("this is no kind")
         places.append(KINDS.index(value))
     return KINDS[max(places)]

@@ -154,7 +154,7 @@ class Chains:
         self.heights = heights_of(self.sets, self.below)
         self.tiled = {}
         for places in self.sets:
-            if len(places) > 1 and places not in self.tiled:
+            if places not in self.tiled:
                 self.number_tiles(places)
         self.whole = unmoved(table)
         self.levels = list(range(self.heights[self.whole], 0, -1))

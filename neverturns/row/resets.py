@@ -65,7 +65,7 @@ def is_row_paper(box, value):
     if not all([is_between(place, 0, len(box) - 1) for place in places]) or places[0] != 0:
         return False
     found = row_table(box.letters, row, len(places))
-    if found is None or len(found[0]) != len(places):
+    if found is None:
         return False
     goals = [tuple([places[at] for at in line]) for line in found[1]]
     return goals == [box.table[place] for place in places]

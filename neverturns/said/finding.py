@@ -190,7 +190,7 @@ class Telling:
 
     def since(self, one, other):
         """Return the step that is true where a step was true, and another one ever since."""
-        if other in (ALWAYS, NEVER) or one == NEVER:
+        if other in (ALWAYS, NEVER):
             return other
         return self.number(("since", one, other))
 

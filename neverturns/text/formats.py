@@ -71,7 +71,7 @@ def read_recipe(text):
     recipe = []
     for at, line in enumerate(lines_of(text)):
         step = step_in(line)
-        if step is None or not is_step_form(step, at):
+        if not is_step_form(step, at):
             raise ParseError(at)
         recipe.append(step)
     return tuple(recipe)
