@@ -128,7 +128,7 @@ def heights_of(sets, below):
     """Return a dict from the image sets to their heights."""
     heights = {}
     # What is below a set, and has it not below itself, has fewer sets below itself.
-    for places in sorted(sets, key=lambda row: len(below[row])):
+    for _, places in sorted([(len(below[row]), row) for row in sets]):
         lesser = [heights[part] for part in below[places] if places not in below[part]]
         heights[places] = 0 if len(places) == 1 else 1 + max(lesser)
     return heights
